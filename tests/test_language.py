@@ -1,0 +1,72 @@
+"""The package keeps to ../shared/LANGUAGE.md, and the look that says so sees what it must."""
+
+import pathlib
+import unittest
+
+from tests.language import PACKAGE, faults
+
+HOME = pathlib.Path(__file__).resolve().parent.parent / PACKAGE
+
+# Each a file that breaks a rule, and the rule.
+BROKEN = (
+    ("L2", "import math\n"), ("L2", "from math import gcd\n"), ("L2", "from threelays.good import *\n"),
+    ("L2", "from .good import told\n"), ("L2", "x = 1\nfrom threelays.good import told\n"),
+    ("L2", "from threelays.none import told\n"), ("L3", "print(1)\n"), ("L3", "x = len([1])\n"), ("L3", "x = y = 1\n"),
+    ("L4", "def f(a, /):\n    return a\n"), ("L4", "def f(*a):\n    return a\n"),
+    ("L4", "def f():\n    def g():\n        return 1\n    return g()\n"),
+    ("L5", "class A:\n    def __hash__(self):\n        return 1\n"), ("L5", "class A(dict):\n    pass\n"),
+    ("L5", "class A:\n    x = 1\n"), ("L6", "def f():\n    global x\n"), ("L6", "def f():\n    return {1, 2, 3}\n"),
+    ("L6", "def f(a):\n    return a / 2\n"), ("L6", "def f(a):\n    return 2 ** a\n"), ("L6", "def f():\n    yield 1\n"),
+    ("L6", "def f(a):\n    try:\n        a()\n    except Exception:\n        pass\n"),
+    ("L7", "def f():\n    return 1.5\n"), ("L7", "def f():\n    return (lambda: 1)()\n"),
+    ("L8", "def f(a):\n    return hash(a)\n"), ("L8", "def f(a):\n    print(a)\n"),
+    ("L10", "x = 1  #" + "x" * 120 + "\n"), ("L10", "\n" * 401), ("L10", "if 1:\n\tx = 1\n"),
+    ("L10", "def f():\n" + "    pass\n" * 40), ("L12", "def f():\n    _a = 1\n    return _a\n"),
+    ("L14", "x = '\u00e4'\n"), ("L15", "x = 1\nx = 2\n"), ("L15", "def f(list):\n    return list\n"),
+    ("L15", "from threelays.good import told\ndef f(told):\n    return told\n"),
+    ("L16", "from threelays.good import missing\n"), ("L16", "from threelays.good import told as other\n"),
+    ("L16", "from threelays.bad import f\ndef f():\n    return 1\n"), ("L17", "# what type it is\n"),
+    ("L18", "class A:\n    pass\ndef f():\n    return A\n"), ("L18", "def f(a):\n    a.x = 1\n"),
+    ("L18", "class A:\n    def x(self):\n        return 1\nclass B:\n    def f(self):\n        self.x = 1\n"),
+    ("L19", "def f(a):\n    raise a\n"), ("L20", "def f(a, b):\n    return a is b\n"), ("L21", "def f(a: int):\n    pass\n"),
+    ("L22", "from threelays.good import told\ndef f():\n    return told(1, 2)\n"),
+    ("L22", "def f(a):\n    return sorted(a, key=f)\n"), ("L23", "def f(a):\n    return len(zip(a, a))\n"),
+    ("L23", "def f(a):\n    for x in a:\n        a.append(x)\n"), ("L25", "def f(a):\n    return a.hex()\n"),
+    ("L26", "class A:\n    def __init__(self):\n        self.items = 1\n"), ("L27", "x = '%'\n"), ("L27", "x = '\\x41'\n"),
+    ("L27", "x = 1" + "0" * 900 + "\n"), ("L28", "class A:\n    def __init__(self):\n        return None\n"))
+
+GOOD = "def told(a):\n    return a\n"
+
+
+def package_files():
+    return {path.name: path.read_text(encoding="utf-8") for path in HOME.iterdir() if path.name != "__pycache__"}
+
+
+class LanguageTests(unittest.TestCase):
+
+    def test_the_package_keeps_to_the_rules(self):
+        self.assertEqual(faults(package_files()), [])
+
+    def test_its_files(self):
+        files = package_files()
+        for name in ("__init__", "errors", "fractions", "points", "fields", "ties", "triangles"):
+            self.assertIn(name + ".py", files)
+        self.assertTrue(all(path.is_file() for path in HOME.iterdir() if path.name != "__pycache__"))
+        self.assertLessEqual(len(files), 100)
+
+    def test_the_look_sees_each_break(self):
+        for rule, text in BROKEN:
+            with self.subTest(text):
+                found = faults({"__init__.py": "", "good.py": GOOD, "bad.py": text})
+                self.assertIn(rule, [fault.split()[0] for fault in found if "bad.py" in fault or PACKAGE in fault])
+
+    def test_the_look_sees_bad_names_of_files_and_rounds(self):
+        self.assertIn("L1", faults({"Bad.py": GOOD})[0])
+        self.assertIn("L14", faults({"test_bad.py": GOOD})[0])
+        self.assertIn("L14", faults({"range.py": GOOD})[0])
+        rounds = {"one.py": "from threelays.other import g\ndef f():\n    return g()\n",
+                  "other.py": "from threelays.one import f\ndef g():\n    return f()\n"}
+        self.assertEqual([fault.split()[0] for fault in faults(rounds)], ["L16", "L16"])
+
+    def test_the_look_lets_good_files_by(self):
+        self.assertEqual(faults({"__init__.py": '"""Told."""\n', "good.py": GOOD}), [])

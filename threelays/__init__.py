@@ -1,0 +1,1 @@
+"""Threelays: triangles laid over points. All is imported from the modules of this package."""
