@@ -1,8 +1,8 @@
 """Looks at the package's files by the rules of ../shared/LANGUAGE.md.
 
 It lets by less than the rules do: only what the package uses so far. What stands outside of that
-(sets, handlers, generators, nested functions, decorators, annotations ..) is a fault here until
-a look for its own rules is written.
+(stored sets, handlers, generators, nested functions, decorators, annotations ..) is a fault here
+until a look for its own rules is written.
 """
 
 import ast
@@ -18,7 +18,8 @@ NODES = (
     ast.While, ast.If, ast.Expr, ast.Pass, ast.Break, ast.Continue, ast.Raise, ast.BoolOp, ast.boolop, ast.BinOp,
     ast.Add, ast.Sub, ast.Mult, ast.FloorDiv, ast.Mod, ast.UnaryOp, ast.USub, ast.Not, ast.IfExp, ast.Compare,
     ast.cmpop, ast.Call, ast.keyword, ast.Constant, ast.Attribute, ast.Subscript, ast.Slice, ast.Name,
-    ast.expr_context, ast.List, ast.Tuple, ast.ListComp, ast.GeneratorExp, ast.comprehension, ast.ImportFrom, ast.alias)
+    ast.expr_context, ast.List, ast.Tuple, ast.ListComp, ast.GeneratorExp, ast.comprehension, ast.ImportFrom, ast.alias,
+    ast.Dict, ast.SetComp)
 
 BUILTINS = (
     "len", "range", "enumerate", "zip", "min", "max", "sum", "abs", "sorted", "reversed", "int", "str", "bool", "list",
@@ -58,6 +59,7 @@ class Look:
             for node in ast.walk(self.trees[name]):
                 self.look_at_node(name, node)
             self.look_at_classes_as_values(name)
+            self.look_at_sets(name)
         self.look_at_rounds()
         self.look_at_attributes()
 
@@ -113,7 +115,8 @@ class Look:
             self.fault("L16", name, 1, "__init__.py binds a name")
 
     def look_at_plain_value(self, name, node):
-        plain = (ast.Constant, ast.Tuple, ast.List, ast.UnaryOp, ast.USub, ast.expr_context)
+        # Lists and dicts could be modified by a function, for which there is no look.
+        plain = (ast.Constant, ast.Tuple, ast.UnaryOp, ast.USub, ast.expr_context)
         if len(node.targets) != 1 or not all(isinstance(part, plain) for part in ast.walk(node.value)):
             self.fault("L3", name, node.lineno, "no plain value, once")
 
@@ -151,7 +154,8 @@ class Look:
         looks = {
             ast.FunctionDef: self.look_at_function, ast.ClassDef: self.look_at_class, ast.Call: self.look_at_call,
             ast.Compare: self.look_at_compare, ast.Constant: self.look_at_constant, ast.Raise: self.look_at_raise,
-            ast.Name: self.look_at_plain_name, ast.Attribute: self.look_at_attribute, ast.For: self.look_at_loop}
+            ast.Name: self.look_at_plain_name, ast.Attribute: self.look_at_attribute, ast.For: self.look_at_loop,
+            ast.Dict: self.look_at_dict}
         if node.__class__ in looks:
             looks[node.__class__](name, node)
 
@@ -245,12 +249,27 @@ class Look:
                 self.fault("L23", name, node.lineno, "what is iterated at once is passed on")
 
     def look_at_loop(self, name, node):
-        """What is iterated is not modified in the loop: no method that modifies is called off its name."""
+        """What is iterated is not modified: no item of it is assigned, no method that modifies is called off it."""
         iterated = [part.id for part in ast.walk(node.iter) if isinstance(part, ast.Name)]
         for part in ast.walk(node):
-            if isinstance(part, ast.Attribute) and isinstance(part.value, ast.Name):
-                if part.value.id in iterated and part.attr in ("append", "pop", "extend", "insert"):
-                    self.fault("L23", name, part.lineno, "what a loop iterates over is modified")
+            calls = isinstance(part, ast.Attribute) and part.attr in ("append", "pop", "extend", "insert")
+            assigns = isinstance(part, ast.Subscript) and isinstance(part.ctx, ast.Store)
+            if (calls or assigns) and isinstance(part.value, ast.Name) and part.value.id in iterated:
+                self.fault("L23", name, part.lineno, "what a loop iterates over is modified")
+
+    def look_at_dict(self, name, node):
+        if node.keys:
+            self.fault("L24", name, node.lineno, "only a dict that is empty at first is in use here")
+
+    def look_at_sets(self, name):
+        """A set stands directly in sorted, alone there, and nowhere else."""
+        right = []
+        for node in ast.walk(self.trees[name]):
+            if isinstance(node, ast.Call) and isinstance(node.func, ast.Name) and node.func.id == "sorted":
+                right += node.args if len(node.args) == 1 and not node.keywords else []
+        for node in ast.walk(self.trees[name]):
+            if isinstance(node, ast.SetComp) and node not in right:
+                self.fault("L24", name, node.lineno, "a set that does not stand in sorted")
 
     def look_at_compare(self, name, node):
         for sign, right in zip(node.ops, node.comparators):

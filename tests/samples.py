@@ -62,6 +62,20 @@ MADE = made_fields()
 FIELDS = SMALL + SIXTEEN + (WHEEL, RIM) + MADE
 
 
+ROUND_NINE = CIRCLE[:9]
+TWO_OFF = tuple(sorted([(x, 0) for x in range(7)] + [(2, 3), (4, -2)]))
+BOTH_OFF = tuple(sorted([(x, x) for x in range(7)] + [(1, 5), (2, 5)]))
+TWO_COLUMNS = tuple((x, y) for x in range(2) for y in range(4))
+OUTER_NINE = tuple((x, y) for x in (-1000, 0, 1000) for y in (-1000, 0, 1000))
+OUTER_EIGHT = tuple(sorted(CORNERS + ((-999, 999), (-1, 0), (0, 1), (999, -1000))))
+NINES = SMALL + (ROUND_NINE, TWO_OFF, BOTH_OFF, TWO_COLUMNS, OUTER_NINE, OUTER_EIGHT) + MADE[:-3]
+
+
+def bowl(many):
+    """A field of so many points, all on the hull, no three on one line, all on the lower front."""
+    return tuple((x, x * x) for x in range(many))
+
+
 def deep(kind, inmost, depth):
     thing = inmost
     for step in range(depth):

@@ -5,21 +5,12 @@ import unittest
 
 from tests.samples import CORNERS, FIELDS, FLAT_ROW, GRID_FOUR, LADDER, OUTERMOST, RIM, SIXTEEN, SMALL, WHEEL
 from tests.shapes import places_in_common
-from threelays.fields import hull
+from tests.trying import hull_ties, sides
 from threelays.points import side
 from threelays.ties import cross, crossing, ties
 from threelays.triangles import over, triangles
 
 SOME = SMALL + (WHEEL, RIM, LADDER, FLAT_ROW) + FIELDS[16:50]
-
-
-def sides(triangle):
-    return list(itertools.combinations(triangle, 2))
-
-
-def hull_ties(field):
-    rim = hull(field)
-    return {tuple(sorted(pair)) for pair in zip(rim, rim[1:] + rim[:1])}
 
 
 class FollowsTests(unittest.TestCase):

@@ -5,11 +5,17 @@ import inspect
 import unittest
 
 from tests.samples import FIELDS, GRID_FOUR, GRID_THREE, OUTERMOST, SPOT, SQUARE, no_points
-from threelays import fields, fractions, points, ties, triangles
+from threelays import (
+    countchecker, counting, fields, fractions, fronts, laychecker, lays, menus, points, tielays, ties, triangles)
+from threelays.errors import NoLay, NoPaper
 
 TIE = ((0, 0), (1, 1))
 OTHER_TIE = ((0, 1), (1, 0))
 THREE = ((0, 0), (3, 1), (1, 4))
+LAY = (SPOT, SQUARE[1:])
+ALL = triangles.triangles(SQUARE)
+LOWER = fields.lower(SQUARE)
+PAPER = ((fields.upper(SQUARE), 1, 1), (SQUARE, 0, 1), (LOWER, 0, 1))
 
 INTERFACE = (
     (fractions, "is_number", ("thing",)), (fractions, "is_fraction", ("thing",)),
@@ -21,23 +27,56 @@ INTERFACE = (
     (ties, "is_tie", ("field", "thing")), (ties, "ties", ("field",)), (ties, "cross", ("one", "other")),
     (ties, "crossing", ("field", "tie")),
     (triangles, "is_triangle", ("field", "thing")), (triangles, "triangles", ("field",)),
-    (triangles, "over", ("one", "other")), (triangles, "least_corner", ("triangle",)))
+    (triangles, "over", ("one", "other")), (triangles, "least_corner", ("triangle",)),
+    (laychecker, "lets_lay", ("field", "thing")), (lays, "ties_of", ("lay",)), (lays, "inner", ("field", "lay")),
+    (lays, "opposite", ("lay", "tie")), (lays, "least_of", ("lay",)), (lays, "lift", ("lay",)),
+    (lays, "weight", ("field", "weights", "lay")), (tielays, "lay_of", ("field", "some")),
+    (menus, "is_menu", ("field", "thing")), (menus, "with_ties", ("field", "some")),
+    (menus, "without_ties", ("field", "some")), (menus, "with_triangles", ("field", "some")),
+    (menus, "no_longer", ("field", "most")), (menus, "corners_from", ("field", "corner", "strict")),
+    (fronts, "is_front", ("field", "thing")), (fronts, "advances", ("field", "menu", "front", "mark")),
+    (fronts, "laying_row", ("field", "lay")), (counting, "count", ("field", "menu")),
+    (countchecker, "lets_count", ("field", "menu", "thing")))
 
 ASKINGS = (
     (fractions.fraction, (6, -4)), (fractions.less, ((1, 3), (1, 2))), (points.side, THREE), (points.area, THREE),
     (points.far, THREE[:2]), (points.corner, THREE), (ties.cross, (TIE, OTHER_TIE)), (ties.crossing, (SQUARE, TIE)),
-    (triangles.over, (SPOT, SPOT)), (triangles.least_corner, (SPOT,)))
+    (triangles.over, (SPOT, SPOT)), (triangles.least_corner, (SPOT,)), (laychecker.lets_lay, (SQUARE, LAY)),
+    (lays.ties_of, (LAY,)), (lays.inner, (SQUARE, LAY)), (lays.opposite, (LAY, OTHER_TIE)), (lays.opposite, (LAY, TIE)),
+    (lays.least_of, (LAY,)), (lays.lift, (LAY,)), (lays.weight, (SQUARE, (1, 2, 3, 4, 5, 6), LAY)),
+    (tielays.lay_of, (SQUARE, lays.ties_of(LAY))), (menus.with_ties, (SQUARE, (TIE,))),
+    (menus.without_ties, (SQUARE, (TIE,))), (menus.with_triangles, (SQUARE, (SPOT,))), (menus.no_longer, (SQUARE, 2)),
+    (menus.corners_from, (SQUARE, (1, 1), False)), (fronts.advances, (SQUARE, ALL, LOWER, 0)),
+    (fronts.laying_row, (SQUARE, LAY)), (counting.count, (SQUARE, ALL)),
+    (countchecker.lets_count, (SQUARE, LAY, PAPER)))
 
 LOOKS = (
     fractions.is_number, fractions.is_fraction, points.is_point, fields.is_field,
-    lambda thing: ties.is_tie(GRID_THREE, thing), lambda thing: triangles.is_triangle(GRID_THREE, thing))
+    lambda thing: ties.is_tie(GRID_THREE, thing), lambda thing: triangles.is_triangle(GRID_THREE, thing),
+    lambda thing: menus.is_menu(SQUARE, thing), lambda thing: fronts.is_front(SQUARE, thing))
+
+
+def refusal(ask, things):
+    """The word and the number with which a checker refuses; what it tells else."""
+    try:
+        return ask(*things)
+    except NoPaper as error:
+        return error.word, error.number
+
+
+CHECKERS = (
+    lambda thing: refusal(laychecker.lets_lay, (SQUARE, thing)),
+    lambda thing: refusal(countchecker.lets_count, (SQUARE, LAY, thing)))
 
 TELLS = (fields.hull, fields.hull_area, fields.lower, fields.upper, ties.ties, triangles.triangles)
 
 
 def right_things():
     """Things that some look lets by, and such with a list in them."""
-    return [3, (1, 2), TIE, list(TIE), SPOT, list(SPOT), GRID_THREE, ([0, 0], [0, 1], [1, 0]), [[0, 0], [1, 1]]]
+    return [
+        3, (1, 2), TIE, list(TIE), SPOT, list(SPOT), GRID_THREE, ([0, 0], [0, 1], [1, 0]), [[0, 0], [1, 1]], LAY,
+        list(LAY), (SPOT, list(SQUARE[1:])), LAY[::-1], LAY[:1], LOWER, list(LOWER), PAPER, list(PAPER), PAPER[1:],
+        PAPER[:2] + ([LOWER, 0, 1],), PAPER[:2] + ((list(LOWER), 0, 1),), PAPER[:2] + ((LOWER, 0, 2),)]
 
 
 class InterfaceTests(unittest.TestCase):
@@ -61,6 +100,15 @@ class HandedInTests(unittest.TestCase):
                 self.assertIs(look(before), first)
                 self.assertIs(first.__class__, bool)
 
+    def test_things_that_checkers_look_at_stay(self):
+        for look in CHECKERS:
+            for thing in no_points() + right_things():
+                before = copy.deepcopy(thing)
+                first = look(thing)
+                self.assertEqual(repr(thing), repr(before))
+                self.assertEqual(repr(look(thing)), repr(first))
+                self.assertEqual(repr(look(before)), repr(first))
+
     def test_fields_stay(self):
         for tell in TELLS:
             for field in FIELDS[:20]:
@@ -73,6 +121,27 @@ class HandedInTests(unittest.TestCase):
             before = repr(things)
             ask(*things)
             self.assertEqual(repr(things), before)
+
+
+class RefusalTests(unittest.TestCase):
+
+    def test_a_new_refusal_each_time(self):
+        for ask, things, kind in ((laychecker.lets_lay, (SQUARE, ()), NoPaper), (tielays.lay_of, (SQUARE, ()), NoLay),
+                                  (countchecker.lets_count, (SQUARE, LAY, ()), NoPaper)):
+            found = []
+            for step in range(2):
+                with self.assertRaises(kind) as caught:
+                    ask(*things)
+                found.append(caught.exception)
+            self.assertIsNot(found[0], found[1])
+            self.assertEqual(vars(found[0]), vars(found[1]))
+
+    def test_what_was_refused_changes_no_answer(self):
+        for look in CHECKERS:
+            right = [repr(look(thing)) for thing in (LAY, PAPER)]
+            for thing in no_points() + right_things():
+                look(thing)
+            self.assertEqual([repr(look(thing)) for thing in (LAY, PAPER)], right)
 
 
 class AnsweredAlikeTests(unittest.TestCase):
@@ -110,3 +179,9 @@ class AnsweredAlikeTests(unittest.TestCase):
             look(getattr(module, name)(*things))
         look(triangles.least_corner(SPOT))
         look(ties.crossing(SQUARE, TIE))
+        for ask, things in ASKINGS:
+            told = ask(*things)
+            if told.__class__ is list:
+                look(tuple(told))
+            elif told.__class__ is not bool:
+                look(told)

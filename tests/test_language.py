@@ -16,7 +16,8 @@ BROKEN = (
     ("L4", "def f():\n    def g():\n        return 1\n    return g()\n"),
     ("L5", "class A:\n    def __hash__(self):\n        return 1\n"), ("L5", "class A(dict):\n    pass\n"),
     ("L5", "class A:\n    x = 1\n"), ("L6", "def f():\n    global x\n"), ("L6", "def f():\n    return {1, 2, 3}\n"),
-    ("L6", "def f(a):\n    return a / 2\n"), ("L6", "def f(a):\n    return 2 ** a\n"), ("L6", "def f():\n    yield 1\n"),
+    ("L6", "def f(a):\n    return a / 2\n"), ("L6", "def f(a):\n    return 2 ** a\n"),
+    ("L6", "def f():\n    yield 1\n"),
     ("L6", "def f(a):\n    try:\n        a()\n    except Exception:\n        pass\n"),
     ("L7", "def f():\n    return 1.5\n"), ("L7", "def f():\n    return (lambda: 1)()\n"),
     ("L8", "def f(a):\n    return hash(a)\n"), ("L8", "def f(a):\n    print(a)\n"),
@@ -28,11 +29,16 @@ BROKEN = (
     ("L16", "from threelays.bad import f\ndef f():\n    return 1\n"), ("L17", "# what type it is\n"),
     ("L18", "class A:\n    pass\ndef f():\n    return A\n"), ("L18", "def f(a):\n    a.x = 1\n"),
     ("L18", "class A:\n    def x(self):\n        return 1\nclass B:\n    def f(self):\n        self.x = 1\n"),
-    ("L19", "def f(a):\n    raise a\n"), ("L20", "def f(a, b):\n    return a is b\n"), ("L21", "def f(a: int):\n    pass\n"),
+    ("L19", "def f(a):\n    raise a\n"), ("L20", "def f(a, b):\n    return a is b\n"),
+    ("L21", "def f(a: int):\n    pass\n"),
     ("L22", "from threelays.good import told\ndef f():\n    return told(1, 2)\n"),
     ("L22", "def f(a):\n    return sorted(a, key=f)\n"), ("L23", "def f(a):\n    return len(zip(a, a))\n"),
     ("L23", "def f(a):\n    for x in a:\n        a.append(x)\n"), ("L25", "def f(a):\n    return a.hex()\n"),
-    ("L26", "class A:\n    def __init__(self):\n        self.items = 1\n"), ("L27", "x = '%'\n"), ("L27", "x = '\\x41'\n"),
+    ("L23", "def f(a):\n    for x in a:\n        a[x] = 1\n"), ("L24", "def f(a):\n    return {x for x in a}\n"),
+    ("L24", "def f(a):\n    return list({x for x in a})\n"), ("L3", "x = [len]\n"),
+    ("L24", "def f(a):\n    for x in {y for y in a}:\n        x()\n"), ("L24", "def f(a):\n    return {a: 1, **a}\n"),
+    ("L26", "class A:\n    def __init__(self):\n        self.items = 1\n"), ("L27", "x = '%'\n"),
+    ("L27", "x = '\\x41'\n"),
     ("L27", "x = 1" + "0" * 900 + "\n"), ("L28", "class A:\n    def __init__(self):\n        return None\n"))
 
 GOOD = "def told(a):\n    return a\n"
@@ -49,7 +55,8 @@ class LanguageTests(unittest.TestCase):
 
     def test_its_files(self):
         files = package_files()
-        for name in ("__init__", "errors", "fractions", "points", "fields", "ties", "triangles"):
+        for name in ("__init__", "errors", "fractions", "points", "fields", "ties", "triangles", "laychecker", "lays",
+                     "tielays", "menus", "fronts", "counting", "countchecker"):
             self.assertIn(name + ".py", files)
         self.assertTrue(all(path.is_file() for path in HOME.iterdir() if path.name != "__pycache__"))
         self.assertLessEqual(len(files), 100)

@@ -1,6 +1,6 @@
 """FIELDS, their HULLS, and the LOWER and the UPPER FRONT."""
 
-from threelays.points import are_rising_points, area, side
+from threelays.points import are_rising_points, area, side, steps
 
 
 def is_field(thing):
@@ -50,4 +50,4 @@ def hull_area(field):
     """Tell the AREA of a FIELD's HULL, doubled."""
     rim = hull(field)
     first = rim[0]
-    return sum(area(first, one, other) for one, other in zip(rim[1:], rim[2:]))
+    return sum(area(first, one, other) for one, other in steps(rim[1:]))

@@ -42,3 +42,12 @@ def less(one, other):
     """Tell whether the one FRACTION is less than the other."""
     # Both bottoms are above 0, so the comparison may be multiplied by them.
     return one[0] * other[1] < other[0] * one[1]
+
+
+def greatest(some):
+    """Tell the greatest of one FRACTION or more."""
+    told = some[0]
+    for other in some:
+        if less(told, other):
+            told = other
+    return told

@@ -8,14 +8,22 @@ def is_point(thing):
     return is_number_pair(thing)
 
 
+def steps(row):
+    """Tell each two of a row that stand behind one another."""
+    return list(zip(row, row[1:]))
+
+
+def rises(row):
+    """Tell whether a row rises, with nothing twice."""
+    return all(one < other for one, other in steps(row))
+
+
 def are_rising_points(thing):
     """Tell whether a thing is a rising tuple of POINTS, perhaps of none."""
     if not isinstance(thing, tuple):
         return False
     # Truths compare like numbers, so each one's kind is asked before any are compared.
-    if not all(is_point(point) for point in thing):
-        return False
-    return all(one < other for one, other in zip(thing, thing[1:]))
+    return all(is_point(point) for point in thing) and rises(thing)
 
 
 def signed_area(a, b, c):

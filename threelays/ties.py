@@ -1,7 +1,7 @@
 """TIES of a FIELD, and which of them CROSS."""
 
-from threelays.fields import are_points_of
-from threelays.points import side
+from threelays.fields import are_points_of, lower, upper
+from threelays.points import side, steps
 
 
 def is_parted(field, pair):
@@ -19,6 +19,11 @@ def ties(field):
     """Tell all TIES of a FIELD, rising."""
     pairs = [(a, b) for at, a in enumerate(field) for b in field[at + 1:]]
     return tuple([pair for pair in pairs if not is_parted(field, pair)])
+
+
+def hull_ties(field):
+    """Tell all HULL TIES of a FIELD, those of its LOWER FRONT ahead of the others."""
+    return steps(lower(field)) + steps(upper(field))
 
 
 def lie_on_both_hands(line, pair):

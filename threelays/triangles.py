@@ -1,7 +1,7 @@
 """TRIANGLES of a FIELD, and which of them lie OVER one another."""
 
 from threelays.fields import are_points_of
-from threelays.fractions import less
+from threelays.fractions import greatest
 from threelays.points import corner, side
 
 
@@ -22,9 +22,14 @@ def is_flat(three):
     return side(three[0], three[1], three[2]) == 0
 
 
+def are_corners(field, thing):
+    """Tell whether a thing is a rising tuple of three POINTS of a FIELD that are not on one line."""
+    return are_points_of(field, thing, 3) and not is_flat(thing)
+
+
 def is_triangle(field, thing):
     """Tell whether a thing is a TRIANGLE of a FIELD."""
-    return are_points_of(field, thing, 3) and not is_flat(thing) and is_void(field, thing)
+    return are_corners(field, thing) and is_void(field, thing)
 
 
 def triangles(field):
@@ -32,6 +37,12 @@ def triangles(field):
     pairs = [(a, b, at) for a in field for at, b in enumerate(field) if a < b]
     threes = [(a, b, c) for a, b, at in pairs for c in field[at + 1:]]
     return tuple([three for three in threes if not is_flat(three) and is_void(field, three)])
+
+
+def sides_of(triangle):
+    """Tell the three sides of a TRIANGLE, rising."""
+    a, b, c = triangle
+    return ((a, b), (a, c), (b, c))
 
 
 def ways_round(three):
@@ -57,9 +68,4 @@ def over(one, other):
 
 def least_corner(triangle):
     """Tell the least CORNER of a TRIANGLE: the greatest FRACTION."""
-    corners = [corner(a, b, c) for a, b, c in ways_round(triangle)]
-    greatest = corners[0]
-    for other in corners[1:]:
-        if less(greatest, other):
-            greatest = other
-    return greatest
+    return greatest([corner(a, b, c) for a, b, c in ways_round(triangle)])

@@ -1,0 +1,170 @@
+"""Lays, fronts, advances and count papers found slowly, by trying, by the words of the document.
+
+What the tests hold the program's answers against; of the program only the fields' hulls, ties and triangles are
+taken, which have tests of their own.
+"""
+
+import functools
+import itertools
+import random
+
+from tests.shapes import between, common_area, do_cross, doubled
+from threelays.fields import hull, hull_area, lower, upper
+from threelays.ties import cross, ties
+from threelays.triangles import triangles
+
+
+def size(three):
+    return abs(doubled(*three))
+
+
+def sides(three):
+    return tuple(itertools.combinations(three, 2))
+
+
+def hull_ties(field):
+    rim = hull(field)
+    return {tuple(sorted(pair)) for pair in zip(rim, rim[1:] + rim[:1])}
+
+
+def many_triangles(field):
+    return 2 * len(field) - 2 - len(hull(field))
+
+
+def many_ties(field):
+    return 3 * len(field) - 3 - len(hull(field))
+
+
+@functools.lru_cache(maxsize=None)
+def lie_over(one, other):
+    return common_area(one, other) > 0
+
+
+@functools.lru_cache(maxsize=None)
+def lays_by_choice(field):
+    """All lays by their very definition: each choice of triangles of which no two lie over one another."""
+    found = []
+
+    def go_on(chosen, rest, lacking):
+        if lacking == 0:
+            found.append(tuple(chosen))
+        elif sum(map(size, rest)) >= lacking:
+            first = rest[0]
+            go_on(chosen + [first], [three for three in rest[1:] if not lie_over(first, three)], lacking - size(first))
+            go_on(chosen, rest[1:], lacking)
+
+    go_on([], list(triangles(field)), hull_area(field))
+    return tuple(sorted(found))
+
+
+@functools.lru_cache(maxsize=None)
+def all_lays(field):
+    """All lays, grown from the hull ties inwards: each open tie is given a triangle on its open hand."""
+    found = []
+    on_hand = {}
+    for three in triangles(field):
+        for a, b in sides(three):
+            third = [point for point in three if point not in (a, b)][0]
+            on_hand.setdefault((a, b, doubled(a, b, third) > 0), []).append(three)
+
+    def opened(open_ties, three):
+        told = dict(open_ties)
+        for a, b in sides(three):
+            third = [point for point in three if point not in (a, b)][0]
+            if told.pop((a, b, doubled(a, b, third) > 0), None) is None:
+                told[a, b, doubled(a, b, third) < 0] = True
+        return told
+
+    def go_on(chosen, open_ties):
+        if not open_ties:
+            found.append(tuple(sorted(chosen)))
+            return
+        for three in on_hand.get(min(open_ties), []):
+            if not any(lie_over(three, other) for other in chosen):
+                go_on(chosen + [three], opened(open_ties, three))
+
+    rim = {}
+    for a, b in hull_ties(field):
+        rim[a, b, any(doubled(a, b, point) > 0 for point in field)] = True
+    go_on([], rim)
+    return tuple(sorted(found))
+
+
+def tied_lay(field, order):
+    """The lay that comes where ties are taken in an order, each one that crosses none taken yet."""
+    taken = []
+    for tie in order:
+        if not any(cross(tie, other) for other in taken):
+            taken.append(tie)
+    held = set(taken)
+    return tuple(three for three in triangles(field) if held.issuperset(sides(three)))
+
+
+@functools.lru_cache(maxsize=None)
+def some_lays(field):
+    """A few lays of a field, of sixteen points too."""
+    source = random.Random(len(field) * 1000 + sum(x * 31 + y for x, y in field))
+    told = {}
+    for step in range(4):
+        order = list(ties(field))
+        source.shuffle(order)
+        told[tied_lay(field, order)] = True
+    return tuple(told)
+
+
+@functools.lru_cache(maxsize=None)
+def all_fronts(field):
+    """All fronts of a field: each choice of points between the first and the last one is tried."""
+    found = []
+    for many in range(len(field) - 1):
+        for middle in itertools.combinations(field[1:-1], many):
+            front = (field[0],) + middle + (field[-1],)
+            if all(between(a, b).isdisjoint(field) for a, b in zip(front, front[1:])):
+                found.append(front)
+    return tuple(sorted(found))
+
+
+def tried_advances(menu, front, mark):
+    """The advances of a front: each triangle is tried at each place."""
+    told = []
+    for three in menu:
+        a, b, c = three
+        for place in range(len(front) - 1):
+            below = doubled(a, b, c) > 0
+            if below and front[place:place + 3] == (a, b, c) and place >= mark - 1:
+                told.append((place, three, tuple(point for point in front if point != b)))
+            if not below and front[place:place + 2] == (a, c) and place >= mark:
+                told.append((place, three, tuple(sorted(front + (b,)))))
+    return told
+
+
+def rows_by_marks(field, menu):
+    """The triangles of all ways from the lower front to the upper one, each let by the mark that the one ahead left."""
+    found = []
+
+    def go_on(row, front, mark):
+        if front == upper(field):
+            found.append(tuple(row))
+        for place, three, came in tried_advances(menu, front, mark):
+            go_on(row + [three], came, place)
+
+    go_on([], lower(field), 0)
+    return found
+
+
+def tried_paper(field, menu):
+    """A count paper, each row behind all to which it leads."""
+    known = {}
+
+    def go_on(front, mark):
+        if (front, mark) not in known:
+            numbers = [go_on(came, place) for place, three, came in tried_advances(menu, front, mark)]
+            known[front, mark] = 1 if front == upper(field) else sum(numbers)
+        return known[front, mark]
+
+    go_on(lower(field), 0)
+    return tuple((front, mark, number) for (front, mark), number in known.items())
+
+
+def crossed_pairs(some):
+    return [(one, other) for one, other in itertools.combinations(some, 2) if do_cross(one, other)]
