@@ -25,8 +25,9 @@ BUILTINS = (
     "len", "range", "enumerate", "zip", "min", "max", "sum", "abs", "sorted", "reversed", "int", "str", "bool", "list",
     "tuple", "dict", "isinstance", "ord", "repr", "any", "all", "divmod", "ValueError")
 ITERATED = ("zip", "enumerate", "reversed", "range")
-TAKERS = ("list", "tuple", "sorted", "sum", "any", "all", "min", "max")
-METHODS = ("append", "pop", "extend", "insert", "index", "count", "join", "split", "startswith", "endswith")
+VIEWS = ("keys", "values", "items")
+TAKERS = ("list", "tuple", "dict", "sorted", "sum", "any", "all", "min", "max")
+METHODS = ("append", "pop", "extend", "insert", "index", "count", "join", "split", "startswith", "endswith") + VIEWS
 ERROR_BASES = ("ValueError",)
 
 BARRED_NAMES = (
@@ -60,6 +61,7 @@ class Look:
                 self.look_at_node(name, node)
             self.look_at_classes_as_values(name)
             self.look_at_sets(name)
+            self.look_at_iterated(name)
         self.look_at_rounds()
         self.look_at_attributes()
 
@@ -239,14 +241,6 @@ class Look:
             self.fault("L8", name, node.lineno, f"{node.func.id} is not called here")
         elif own is None and node.keywords:
             self.fault("L22", name, node.lineno, "a keyword of a builtin is not in use here")
-        self.look_at_parts_iterated(name, node)
-
-    def look_at_parts_iterated(self, name, node):
-        for at, part in enumerate(node.args):
-            lazy = isinstance(part, ast.GeneratorExp) or (
-                isinstance(part, ast.Call) and isinstance(part.func, ast.Name) and part.func.id in ITERATED)
-            if lazy and (node.func.id not in TAKERS or at > 0):
-                self.fault("L23", name, node.lineno, "what is iterated at once is passed on")
 
     def look_at_loop(self, name, node):
         """What is iterated is not modified: no item of it is assigned, no method that modifies is called off it."""
@@ -270,6 +264,23 @@ class Look:
         for node in ast.walk(self.trees[name]):
             if isinstance(node, ast.SetComp) and node not in right:
                 self.fault("L24", name, node.lineno, "a set that does not stand in sorted")
+
+    def look_at_iterated(self, name):
+        """What is iterated at once stands behind the in of a loop or a comprehension, or alone in a builtin."""
+        right = []
+        for node in ast.walk(self.trees[name]):
+            if isinstance(node, (ast.For, ast.comprehension)):
+                right.append(node.iter)
+            elif isinstance(node, ast.Call) and isinstance(node.func, ast.Name) and node.func.id in TAKERS:
+                right += node.args if len(node.args) == 1 else []
+        for node in ast.walk(self.trees[name]):
+            lazy = isinstance(node, ast.GeneratorExp)
+            if isinstance(node, ast.Call) and isinstance(node.func, ast.Name):
+                lazy = node.func.id in ITERATED
+            elif isinstance(node, ast.Call) and isinstance(node.func, ast.Attribute):
+                lazy = node.func.attr in VIEWS
+            if lazy and node not in right:
+                self.fault("L23", name, node.lineno, "what is iterated at once is stored or passed on")
 
     def look_at_compare(self, name, node):
         for sign, right in zip(node.ops, node.comparators):

@@ -6,7 +6,8 @@ import unittest
 
 from tests.samples import FIELDS, GRID_FOUR, GRID_THREE, OUTERMOST, SPOT, SQUARE, no_points
 from threelays import (
-    countchecker, counting, fields, fractions, fronts, laychecker, lays, menus, points, tielays, ties, triangles)
+    boundchecker, boundpapers, countchecker, counting, countpapers, fields, fractions, fronts, laychecker, lays, leasts,
+    longest, menus, numbering, points, tielays, ties, triangles)
 from threelays.errors import NoLay, NoPaper
 
 TIE = ((0, 0), (1, 1))
@@ -16,6 +17,8 @@ LAY = (SPOT, SQUARE[1:])
 ALL = triangles.triangles(SQUARE)
 LOWER = fields.lower(SQUARE)
 PAPER = ((fields.upper(SQUARE), 1, 1), (SQUARE, 0, 1), (LOWER, 0, 1))
+WEIGHTS = (1, 2, 3, 4, 5, 6)
+BOUNDS = ((fields.upper(SQUARE), 0), (SQUARE, 5), (LOWER, 10))
 
 INTERFACE = (
     (fractions, "is_number", ("thing",)), (fractions, "is_fraction", ("thing",)),
@@ -36,7 +39,12 @@ INTERFACE = (
     (menus, "no_longer", ("field", "most")), (menus, "corners_from", ("field", "corner", "strict")),
     (fronts, "is_front", ("field", "thing")), (fronts, "advances", ("field", "menu", "front", "mark")),
     (fronts, "laying_row", ("field", "lay")), (counting, "count", ("field", "menu")),
-    (countchecker, "lets_count", ("field", "menu", "thing")))
+    (countchecker, "lets_count", ("field", "menu", "thing")), (countpapers, "count_paper", ("field", "menu")),
+    (numbering, "lay_at", ("field", "menu", "number")), (numbering, "place_of", ("field", "menu", "lay")),
+    (leasts, "least", ("field", "weights", "menu")),
+    (boundchecker, "lets_bound", ("field", "weights", "menu", "thing")),
+    (boundpapers, "bound_paper", ("field", "weights", "menu")), (longest, "least_longest", ("field",)),
+    (longest, "greatest_corner", ("field",)))
 
 ASKINGS = (
     (fractions.fraction, (6, -4)), (fractions.less, ((1, 3), (1, 2))), (points.side, THREE), (points.area, THREE),
@@ -48,7 +56,11 @@ ASKINGS = (
     (menus.without_ties, (SQUARE, (TIE,))), (menus.with_triangles, (SQUARE, (SPOT,))), (menus.no_longer, (SQUARE, 2)),
     (menus.corners_from, (SQUARE, (1, 1), False)), (fronts.advances, (SQUARE, ALL, LOWER, 0)),
     (fronts.laying_row, (SQUARE, LAY)), (counting.count, (SQUARE, ALL)),
-    (countchecker.lets_count, (SQUARE, LAY, PAPER)))
+    (countchecker.lets_count, (SQUARE, LAY, PAPER)), (countpapers.count_paper, (SQUARE, ALL)),
+    (numbering.lay_at, (SQUARE, ALL, 1)), (numbering.place_of, (SQUARE, ALL, LAY)),
+    (leasts.least, (SQUARE, WEIGHTS, ALL)), (boundchecker.lets_bound, (SQUARE, WEIGHTS, LAY, BOUNDS)),
+    (boundpapers.bound_paper, (SQUARE, WEIGHTS, ALL)), (longest.least_longest, (GRID_THREE,)),
+    (longest.greatest_corner, (GRID_THREE,)))
 
 LOOKS = (
     fractions.is_number, fractions.is_fraction, points.is_point, fields.is_field,
@@ -66,7 +78,8 @@ def refusal(ask, things):
 
 CHECKERS = (
     lambda thing: refusal(laychecker.lets_lay, (SQUARE, thing)),
-    lambda thing: refusal(countchecker.lets_count, (SQUARE, LAY, thing)))
+    lambda thing: refusal(countchecker.lets_count, (SQUARE, LAY, thing)),
+    lambda thing: refusal(boundchecker.lets_bound, (SQUARE, WEIGHTS, LAY, thing)))
 
 TELLS = (fields.hull, fields.hull_area, fields.lower, fields.upper, ties.ties, triangles.triangles)
 
@@ -76,7 +89,8 @@ def right_things():
     return [
         3, (1, 2), TIE, list(TIE), SPOT, list(SPOT), GRID_THREE, ([0, 0], [0, 1], [1, 0]), [[0, 0], [1, 1]], LAY,
         list(LAY), (SPOT, list(SQUARE[1:])), LAY[::-1], LAY[:1], LOWER, list(LOWER), PAPER, list(PAPER), PAPER[1:],
-        PAPER[:2] + ([LOWER, 0, 1],), PAPER[:2] + ((list(LOWER), 0, 1),), PAPER[:2] + ((LOWER, 0, 2),)]
+        PAPER[:2] + ([LOWER, 0, 1],), PAPER[:2] + ((list(LOWER), 0, 1),), PAPER[:2] + ((LOWER, 0, 2),), BOUNDS,
+        list(BOUNDS), BOUNDS[1:], BOUNDS[:2] + ([LOWER, 10],), BOUNDS[:2] + ((list(LOWER), 10),), BOUNDS + BOUNDS]
 
 
 class InterfaceTests(unittest.TestCase):
@@ -127,7 +141,11 @@ class RefusalTests(unittest.TestCase):
 
     def test_a_new_refusal_each_time(self):
         for ask, things, kind in ((laychecker.lets_lay, (SQUARE, ()), NoPaper), (tielays.lay_of, (SQUARE, ()), NoLay),
-                                  (countchecker.lets_count, (SQUARE, LAY, ()), NoPaper)):
+                                  (countchecker.lets_count, (SQUARE, LAY, ()), NoPaper),
+                                  (boundchecker.lets_bound, (SQUARE, WEIGHTS, LAY, BOUNDS[:2]), NoPaper),
+                                  (numbering.lay_at, (SQUARE, ALL, 2), NoLay),
+                                  (numbering.place_of, (SQUARE, ALL[:1], LAY), NoLay),
+                                  (leasts.least, (SQUARE, WEIGHTS, ()), NoLay)):
             found = []
             for step in range(2):
                 with self.assertRaises(kind) as caught:
@@ -138,10 +156,10 @@ class RefusalTests(unittest.TestCase):
 
     def test_what_was_refused_changes_no_answer(self):
         for look in CHECKERS:
-            right = [repr(look(thing)) for thing in (LAY, PAPER)]
+            right = [repr(look(thing)) for thing in (LAY, PAPER, BOUNDS)]
             for thing in no_points() + right_things():
                 look(thing)
-            self.assertEqual([repr(look(thing)) for thing in (LAY, PAPER)], right)
+            self.assertEqual([repr(look(thing)) for thing in (LAY, PAPER, BOUNDS)], right)
 
 
 class AnsweredAlikeTests(unittest.TestCase):

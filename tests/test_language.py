@@ -36,12 +36,17 @@ BROKEN = (
     ("L23", "def f(a):\n    for x in a:\n        a.append(x)\n"), ("L25", "def f(a):\n    return a.hex()\n"),
     ("L23", "def f(a):\n    for x in a:\n        a[x] = 1\n"), ("L24", "def f(a):\n    return {x for x in a}\n"),
     ("L24", "def f(a):\n    return list({x for x in a})\n"), ("L3", "x = [len]\n"),
+    ("L23", "def f(a):\n    return a.items()\n"), ("L23", "def f(a):\n    b = a.values()\n    return b\n"),
+    ("L23", "def f(a):\n    return len(a.keys())\n"), ("L23", "def f(a):\n    return zip(a, a)\n"),
+    ("L23", "def f(a):\n    b = (x for x in a)\n    return b\n"),
+    ("L23", "def f(a):\n    return max(0, (x for x in a))\n"),
     ("L24", "def f(a):\n    for x in {y for y in a}:\n        x()\n"), ("L24", "def f(a):\n    return {a: 1, **a}\n"),
     ("L26", "class A:\n    def __init__(self):\n        self.items = 1\n"), ("L27", "x = '%'\n"),
     ("L27", "x = '\\x41'\n"),
     ("L27", "x = 1" + "0" * 900 + "\n"), ("L28", "class A:\n    def __init__(self):\n        return None\n"))
 
 GOOD = "def told(a):\n    return a\n"
+VIEWED = "def f(a):\n    return (sum(a.values()), tuple(a.items()), dict(zip(a, a)), list(a.keys()))\n"
 
 
 def package_files():
@@ -56,7 +61,8 @@ class LanguageTests(unittest.TestCase):
     def test_its_files(self):
         files = package_files()
         for name in ("__init__", "errors", "fractions", "points", "fields", "ties", "triangles", "laychecker", "lays",
-                     "tielays", "menus", "fronts", "counting", "countchecker"):
+                     "tielays", "menus", "fronts", "counting", "countchecker", "countpapers", "numbering", "leasts",
+                     "boundchecker", "boundpapers", "longest"):
             self.assertIn(name + ".py", files)
         self.assertTrue(all(path.is_file() for path in HOME.iterdir() if path.name != "__pycache__"))
         self.assertLessEqual(len(files), 100)
@@ -76,4 +82,4 @@ class LanguageTests(unittest.TestCase):
         self.assertEqual([fault.split()[0] for fault in faults(rounds)], ["L16", "L16"])
 
     def test_the_look_lets_good_files_by(self):
-        self.assertEqual(faults({"__init__.py": '"""Told."""\n', "good.py": GOOD}), [])
+        self.assertEqual(faults({"__init__.py": '"""Told."""\n', "good.py": GOOD, "viewed.py": VIEWED}), [])

@@ -168,3 +168,66 @@ def tried_paper(field, menu):
 
 def crossed_pairs(some):
     return [(one, other) for one, other in itertools.combinations(some, 2) if do_cross(one, other)]
+
+
+@functools.lru_cache(maxsize=None)
+def tried_row(field, lay):
+    """The laying row of a lay: always the advance of the least place, until there is none."""
+    row, front = [], lower(field)
+    ways = tried_advances(lay, front, 0)
+    while ways:
+        place, three, front = min(ways, key=lambda way: way[0])
+        row.append(three)
+        ways = tried_advances(lay, front, 0)
+    return tuple(row)
+
+
+@functools.lru_cache(maxsize=None)
+def lays_in_order(field):
+    """All lays as they rise by their laying rows."""
+    return tuple(sorted(all_lays(field), key=lambda lay: tried_row(field, lay)))
+
+
+def lays_of_menu(lays, menu):
+    """The lays, in the same order, that have triangles of a menu alone."""
+    held = set(menu)
+    return [lay for lay in lays if held.issuperset(lay)]
+
+
+def ties_in(lay):
+    return sorted({tie for three in lay for tie in sides(three)})
+
+
+def weigh(field, weights, lay):
+    """The weight of a lay, by the place of each of its ties among all."""
+    order = ties(field)
+    return sum(weights[order.index(tie)] for tie in ties_in(lay))
+
+
+def new_ties(front, came):
+    """The ties that the front that comes has and the one that was hasn't."""
+    return sorted(set(zip(came, came[1:])) - set(zip(front, front[1:])))
+
+
+def many_menus(seed, field):
+    """Menus of a field: all triangles, none, some by chance, those of two lays, one triangle less."""
+    source = random.Random(seed)
+    told = triangles(field)
+    lays = all_lays(field)
+    menus = [told, (), told[1:], lays[0], lays[-1][1:], tuple(sorted(set(lays[0] + lays[-1])))]
+    for part in (2, 4, 8):
+        left_out = set(source.sample(told, len(told) // part))
+        menus.append(tuple(three for three in told if three not in left_out))
+    return menus
+
+
+def many_weights(seed, field):
+    """Weights of a field: all 0, all alike, one alone above 0, by lengths, by chance, to 1,000,000."""
+    source = random.Random(seed)
+    order = ties(field)
+    one = source.randrange(len(order))
+    return [
+        (0,) * len(order), (7,) * len(order), (1000000,) * len(order),
+        tuple(1000000 if at == one else 0 for at in range(len(order))),
+        tuple(min(1000000, (b[0] - a[0]) ** 2 + (b[1] - a[1]) ** 2) for a, b in order),
+        tuple(source.randint(0, 9) for tie in order), tuple(source.randint(0, 1000000) for tie in order)]

@@ -28,6 +28,12 @@ def exchange(triangle):
     return ((a, c), triangle)
 
 
+def new_weight(by_ties, triangle):
+    """Tell what the TIES that come NEW in an ADVANCE by a TRIANGLE weigh, by a dict of TIES."""
+    taken, given = exchange(triangle)
+    return sum(by_ties[tie] for tie in steps(given))
+
+
 def least_place(triangle, mark):
     """Tell the least PLACE at which a mark lets an ADVANCE by a TRIANGLE."""
     return mark - 1 if is_below(triangle) else mark

@@ -39,7 +39,12 @@ def lift(lay):
     return sum(lifted(triangle) for triangle in lay)
 
 
+def weights_by_ties(field, weights):
+    """Tell the WEIGHTS of a FIELD as a dict of its TIES."""
+    return dict(zip(ties(field), weights))
+
+
 def weight(field, weights, lay):
     """Tell the weight of a LAY of a FIELD by its WEIGHTS."""
-    held = ties_of(lay)
-    return sum(number for tie, number in zip(ties(field), weights) if tie in held)
+    by_ties = weights_by_ties(field, weights)
+    return sum(by_ties[tie] for tie in ties_of(lay))
