@@ -77,7 +77,7 @@ def wanted(field, weights, menu, thing):
 
 
 def tried_bounds(field, weights, menu, dead):
-    """A bound paper by trying: each front that is come to, with the least that lies ahead; dead where nothing leads on."""
+    """A bound paper by trying: each front that is come to, the least that lies ahead; dead where nothing leads on."""
     known = {}
 
     def go_on(front):

@@ -6,14 +6,16 @@ import unittest
 
 from tests.samples import FIELDS, GRID_FOUR, GRID_THREE, OUTERMOST, SPOT, SQUARE, no_points
 from threelays import (
-    boundchecker, boundpapers, countchecker, counting, countpapers, fields, fractions, fronts, laychecker, lays, leasts,
-    longest, menus, numbering, points, tielays, ties, triangles)
-from threelays.errors import NoLay, NoPaper
+    boundchecker, boundpapers, circles, countchecker, counting, countpapers, distances, falls, fields, fractions,
+    fronts, laychecker, lays, leasts, longest, menus, nears, numbering, plain, plainchecker, points, tielays, ties,
+    triangles, turns)
+from threelays.errors import Crossed, NoLay, NoPaper, NoTie
 
 TIE = ((0, 0), (1, 1))
 OTHER_TIE = ((0, 1), (1, 0))
 THREE = ((0, 0), (3, 1), (1, 4))
 LAY = (SPOT, SQUARE[1:])
+PLAIN = ((SQUARE[0], SQUARE[1], SQUARE[3]), (SQUARE[0], SQUARE[2], SQUARE[3]))
 ALL = triangles.triangles(SQUARE)
 LOWER = fields.lower(SQUARE)
 PAPER = ((fields.upper(SQUARE), 1, 1), (SQUARE, 0, 1), (LOWER, 0, 1))
@@ -44,7 +46,13 @@ INTERFACE = (
     (leasts, "least", ("field", "weights", "menu")),
     (boundchecker, "lets_bound", ("field", "weights", "menu", "thing")),
     (boundpapers, "bound_paper", ("field", "weights", "menu")), (longest, "least_longest", ("field",)),
-    (longest, "greatest_corner", ("field",)))
+    (longest, "greatest_corner", ("field",)), (turns, "can_turn", ("field", "lay", "thing")),
+    (turns, "turns", ("field", "lay")), (turns, "turned", ("field", "lay", "thing")),
+    (circles, "circle", ("corners", "point")), (circles, "is_plain", ("field", "lay", "tie")),
+    (circles, "is_empty", ("field", "lay")), (plain, "plain_lay", ("field", "walls")),
+    (plainchecker, "lets_plain", ("field", "walls", "thing")), (falls, "fallen", ("field", "walls", "lay")),
+    (falls, "joined", ("field", "one", "other")), (nears, "near_ties", ("field",)),
+    (distances, "fewest", ("field", "one", "other")))
 
 ASKINGS = (
     (fractions.fraction, (6, -4)), (fractions.less, ((1, 3), (1, 2))), (points.side, THREE), (points.area, THREE),
@@ -60,26 +68,35 @@ ASKINGS = (
     (numbering.lay_at, (SQUARE, ALL, 1)), (numbering.place_of, (SQUARE, ALL, LAY)),
     (leasts.least, (SQUARE, WEIGHTS, ALL)), (boundchecker.lets_bound, (SQUARE, WEIGHTS, LAY, BOUNDS)),
     (boundpapers.bound_paper, (SQUARE, WEIGHTS, ALL)), (longest.least_longest, (GRID_THREE,)),
-    (longest.greatest_corner, (GRID_THREE,)))
+    (longest.greatest_corner, (GRID_THREE,)), (turns.can_turn, (SQUARE, LAY, OTHER_TIE)),
+    (turns.turns, (SQUARE, LAY)), (turns.turned, (SQUARE, LAY, OTHER_TIE)), (circles.circle, (SPOT, (5, 5))),
+    (circles.is_plain, (SQUARE, LAY, OTHER_TIE)), (circles.is_empty, (SQUARE, LAY)),
+    (plain.plain_lay, (SQUARE, (OTHER_TIE,))), (plain.plain_lay, (GRID_FOUR, ())),
+    (plainchecker.lets_plain, (SQUARE, (OTHER_TIE,), LAY)), (falls.fallen, (SQUARE, (), LAY)),
+    (falls.joined, (SQUARE, LAY, PLAIN)), (falls.joined, (SQUARE, PLAIN, LAY)), (nears.near_ties, (GRID_THREE,)),
+    (distances.fewest, (SQUARE, LAY, PLAIN)), (distances.fewest, (SQUARE, LAY, LAY)))
 
 LOOKS = (
     fractions.is_number, fractions.is_fraction, points.is_point, fields.is_field,
     lambda thing: ties.is_tie(GRID_THREE, thing), lambda thing: triangles.is_triangle(GRID_THREE, thing),
-    lambda thing: menus.is_menu(SQUARE, thing), lambda thing: fronts.is_front(SQUARE, thing))
+    lambda thing: menus.is_menu(SQUARE, thing), lambda thing: fronts.is_front(SQUARE, thing),
+    lambda thing: turns.can_turn(SQUARE, LAY, thing))
 
 
 def refusal(ask, things):
-    """The word and the number with which a checker refuses; what it tells else."""
+    """The fields with which a checker refuses; what it tells else."""
     try:
         return ask(*things)
-    except NoPaper as error:
-        return error.word, error.number
+    except (NoPaper, NoTie) as error:
+        return vars(error)
 
 
 CHECKERS = (
     lambda thing: refusal(laychecker.lets_lay, (SQUARE, thing)),
     lambda thing: refusal(countchecker.lets_count, (SQUARE, LAY, thing)),
-    lambda thing: refusal(boundchecker.lets_bound, (SQUARE, WEIGHTS, LAY, thing)))
+    lambda thing: refusal(boundchecker.lets_bound, (SQUARE, WEIGHTS, LAY, thing)),
+    lambda thing: refusal(plainchecker.lets_plain, (SQUARE, (OTHER_TIE,), thing)),
+    lambda thing: refusal(turns.turned, (SQUARE, LAY, thing)))
 
 TELLS = (fields.hull, fields.hull_area, fields.lower, fields.upper, ties.ties, triangles.triangles)
 
@@ -90,7 +107,8 @@ def right_things():
         3, (1, 2), TIE, list(TIE), SPOT, list(SPOT), GRID_THREE, ([0, 0], [0, 1], [1, 0]), [[0, 0], [1, 1]], LAY,
         list(LAY), (SPOT, list(SQUARE[1:])), LAY[::-1], LAY[:1], LOWER, list(LOWER), PAPER, list(PAPER), PAPER[1:],
         PAPER[:2] + ([LOWER, 0, 1],), PAPER[:2] + ((list(LOWER), 0, 1),), PAPER[:2] + ((LOWER, 0, 2),), BOUNDS,
-        list(BOUNDS), BOUNDS[1:], BOUNDS[:2] + ([LOWER, 10],), BOUNDS[:2] + ((list(LOWER), 10),), BOUNDS + BOUNDS]
+        list(BOUNDS), BOUNDS[1:], BOUNDS[:2] + ([LOWER, 10],), BOUNDS[:2] + ((list(LOWER), 10),), BOUNDS + BOUNDS,
+        OTHER_TIE, list(OTHER_TIE), (list(OTHER_TIE[0]), OTHER_TIE[1])]
 
 
 class InterfaceTests(unittest.TestCase):
@@ -145,7 +163,10 @@ class RefusalTests(unittest.TestCase):
                                   (boundchecker.lets_bound, (SQUARE, WEIGHTS, LAY, BOUNDS[:2]), NoPaper),
                                   (numbering.lay_at, (SQUARE, ALL, 2), NoLay),
                                   (numbering.place_of, (SQUARE, ALL[:1], LAY), NoLay),
-                                  (leasts.least, (SQUARE, WEIGHTS, ()), NoLay)):
+                                  (leasts.least, (SQUARE, WEIGHTS, ()), NoLay),
+                                  (turns.turned, (SQUARE, LAY, TIE), NoTie),
+                                  (plain.plain_lay, (SQUARE, (TIE, OTHER_TIE)), Crossed),
+                                  (plainchecker.lets_plain, (SQUARE, (TIE,), LAY), NoPaper)):
             found = []
             for step in range(2):
                 with self.assertRaises(kind) as caught:
@@ -156,10 +177,10 @@ class RefusalTests(unittest.TestCase):
 
     def test_what_was_refused_changes_no_answer(self):
         for look in CHECKERS:
-            right = [repr(look(thing)) for thing in (LAY, PAPER, BOUNDS)]
+            right = [repr(look(thing)) for thing in (LAY, PAPER, BOUNDS, OTHER_TIE)]
             for thing in no_points() + right_things():
                 look(thing)
-            self.assertEqual([repr(look(thing)) for thing in (LAY, PAPER, BOUNDS)], right)
+            self.assertEqual([repr(look(thing)) for thing in (LAY, PAPER, BOUNDS, OTHER_TIE)], right)
 
 
 class AnsweredAlikeTests(unittest.TestCase):

@@ -62,7 +62,8 @@ class LanguageTests(unittest.TestCase):
         files = package_files()
         for name in ("__init__", "errors", "fractions", "points", "fields", "ties", "triangles", "laychecker", "lays",
                      "tielays", "menus", "fronts", "counting", "countchecker", "countpapers", "numbering", "leasts",
-                     "boundchecker", "boundpapers", "longest"):
+                     "boundchecker", "boundpapers", "longest", "turns", "circles", "plainchecker", "falls", "plain",
+                     "nears", "distances"):
             self.assertIn(name + ".py", files)
         self.assertTrue(all(path.is_file() for path in HOME.iterdir() if path.name != "__pycache__"))
         self.assertLessEqual(len(files), 100)

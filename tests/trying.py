@@ -7,6 +7,7 @@ taken, which have tests of their own.
 import functools
 import itertools
 import random
+from fractions import Fraction
 
 from tests.shapes import between, common_area, do_cross, doubled
 from threelays.fields import hull, hull_area, lower, upper
@@ -231,3 +232,90 @@ def many_weights(seed, field):
         tuple(1000000 if at == one else 0 for at in range(len(order))),
         tuple(min(1000000, (b[0] - a[0]) ** 2 + (b[1] - a[1]) ** 2) for a, b in order),
         tuple(source.randint(0, 9) for tie in order), tuple(source.randint(0, 1000000) for tie in order)]
+
+
+def lay_with_ties(field, held):
+    """The triangles all sides of which are among some ties."""
+    return tuple(three for three in triangles(field) if held.issuperset(sides(three)))
+
+
+@functools.lru_cache(maxsize=None)
+def tried_turn(field, lay, tie):
+    """The other lay that has all ties of a lay but one, and the tie that it has in its place; None where none has."""
+    held = set(ties_in(lay)) - {tie}
+    others = [other for other in ties(field) if other not in held and other != tie
+              and not any(cross(other, one) for one in held)]
+    if not others:
+        return None
+    return lay_with_ties(field, held | {others[0]}), others[0]
+
+
+def walked(field, lay, some, walls=()):
+    """All lays to which a list of ties leads, turned one by one; each has to be one that can be turned, and no wall."""
+    told = [lay]
+    for tie in some:
+        assert tie in ties_in(told[-1]) and tie not in walls, tie
+        found = tried_turn(field, told[-1], tie)
+        assert found is not None, tie
+        told.append(found[0])
+    return told
+
+
+def tried_circle(corners, point):
+    """1 within, 0 on, -1 without the circle, by its middle and the distances from there."""
+    (ax, ay), (bx, by), (cx, cy) = corners
+    whole = 2 * doubled(*corners)
+    one, other = (bx - ax) ** 2 + (by - ay) ** 2, (cx - ax) ** 2 + (cy - ay) ** 2
+    x = ax + Fraction((cy - ay) * one - (by - ay) * other, whole)
+    y = ay + Fraction((bx - ax) * other - (cx - ax) * one, whole)
+    apart = (ax - x) ** 2 + (ay - y) ** 2 - (point[0] - x) ** 2 - (point[1] - y) ** 2
+    return (apart > 0) - (apart < 0)
+
+
+@functools.lru_cache(maxsize=None)
+def tried_plain(lay, tie):
+    """Whether an inner tie of a lay is plain, whichever of the two points across one takes."""
+    one, other = [point for three in lay if set(tie) <= set(three) for point in three if point not in tie]
+    least = min(tie + (one, other))
+    told = []
+    for here, there in ((one, other), (other, one)):
+        where = tried_circle(tuple(sorted(tie + (here,))), there)
+        told.append(where == -1 or (where == 0 and least in tie))
+    assert told[0] == told[1], (lay, tie)
+    return told[0]
+
+
+def unplain_ties(field, walls, lay):
+    """The inner ties of a lay that are no walls and not plain, rising."""
+    rim = hull_ties(field)
+    return [tie for tie in ties_in(lay) if tie not in rim and tie not in walls and not tried_plain(lay, tie)]
+
+
+def plain_lays(field, walls):
+    """All lays that have all walls, and all other inner ties plain, among all lays found by trying."""
+    return [lay for lay in all_lays(field)
+            if set(walls) <= set(ties_in(lay)) and not unplain_ties(field, walls, lay)]
+
+
+@functools.lru_cache(maxsize=None)
+def many_walls(field):
+    """Walls of a field: none, one, two, some of a lay, all of a lay."""
+    source = random.Random(len(field) * 77 + sum(x * 13 + y for x, y in field))
+    told = [(), (source.choice(ties(field)),)]
+    for lay in some_lays(field)[:2]:
+        held = ties_in(lay)
+        for many in (2, len(held) // 3, len(held) * 2 // 3, len(held)):
+            told.append(tuple(sorted(source.sample(held, many))))
+    return tuple(told)
+
+
+def lay_with_walls(field, walls, seed):
+    """A lay that has told walls, another one for another seed."""
+    order = list(ties(field))
+    random.Random(seed).shuffle(order)
+    return tied_lay(field, list(walls) + order)
+
+
+def most_turns(field):
+    """How many ties a field has beyond those of a lay."""
+    return len(ties(field)) - many_ties(field)

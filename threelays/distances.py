@@ -1,0 +1,26 @@
+"""Fewest TURNS between two LAYS."""
+
+from threelays.turns import turned, turns
+
+
+def widen(field, edge, ways):
+    """Put the ways to all LAYS that one TURN makes of those at the edge into ways; tell those that are new there."""
+    found = []
+    for lay in edge:
+        for tie in turns(field, lay):
+            made = turned(field, lay, tie)
+            if made not in ways:
+                ways[made] = ways[lay] + [tie]
+                found.append(made)
+    return found
+
+
+def fewest(field, one, other):
+    """Tell fewest TIES by whose TURNS the one LAY of a FIELD comes to the other."""
+    ways = {}
+    ways[one] = []
+    edge = [one]
+    # By TURNS each LAY comes to each other one, so there is an end.
+    while other not in ways:
+        edge = widen(field, edge, ways)
+    return ways[other]
