@@ -1,8 +1,8 @@
 """Looks at the package's files by the rules of ../shared/LANGUAGE.md.
 
-It lets by less than the rules do: only what the package uses so far. What stands outside of that
-(stored sets, handlers, generators, nested functions, decorators, annotations ..) is a fault here
-until a look for its own rules is written.
+It lets by less than the rules do: only what the package uses. What stands outside of that (stored sets,
+generators, nested functions, decorators, annotations, f-strings, handlers of Python's own errors ..) is a
+fault here until a look for its own rules is written.
 """
 
 import ast
@@ -19,7 +19,7 @@ NODES = (
     ast.Add, ast.Sub, ast.Mult, ast.FloorDiv, ast.Mod, ast.UnaryOp, ast.USub, ast.Not, ast.IfExp, ast.Compare,
     ast.cmpop, ast.Call, ast.keyword, ast.Constant, ast.Attribute, ast.Subscript, ast.Slice, ast.Name,
     ast.expr_context, ast.List, ast.Tuple, ast.ListComp, ast.GeneratorExp, ast.comprehension, ast.ImportFrom, ast.alias,
-    ast.Dict, ast.SetComp)
+    ast.Dict, ast.SetComp, ast.Try, ast.ExceptHandler)
 
 BUILTINS = (
     "len", "range", "enumerate", "zip", "min", "max", "sum", "abs", "sorted", "reversed", "int", "str", "bool", "list",
@@ -60,6 +60,7 @@ class Look:
             for node in ast.walk(self.trees[name]):
                 self.look_at_node(name, node)
             self.look_at_classes_as_values(name)
+            self.look_at_tables(name)
             self.look_at_sets(name)
             self.look_at_iterated(name)
         self.look_at_rounds()
@@ -117,10 +118,39 @@ class Look:
             self.fault("L16", name, 1, "__init__.py binds a name")
 
     def look_at_plain_value(self, name, node):
-        # Lists and dicts could be modified by a function, for which there is no look.
         plain = (ast.Constant, ast.Tuple, ast.UnaryOp, ast.USub, ast.expr_context)
-        if len(node.targets) != 1 or not all(isinstance(part, plain) for part in ast.walk(node.value)):
+        above = [other.name for other in self.trees[name].body
+                 if isinstance(other, ast.FunctionDef) and other.lineno < node.lineno]
+        parts = [node.value]
+        if isinstance(node.value, ast.Dict):
+            values = [value for value in node.value.values if not (isinstance(value, ast.Name) and value.id in above)]
+            parts = node.value.keys + values
+        # A part is None where a dict is put into another one by its stars.
+        whole = [part for part in parts if part is not None for part in ast.walk(part)]
+        if len(node.targets) != 1 or None in parts or not all(isinstance(part, plain) for part in whole):
             self.fault("L3", name, node.lineno, "no plain value, once")
+
+    def tables(self, name):
+        """The dicts at the module level of a file, with their nodes."""
+        return {node.targets[0].id: node.value for node in self.trees[name].body
+                if isinstance(node, ast.Assign) and isinstance(node.value, ast.Dict)
+                and isinstance(node.targets[0], ast.Name)}
+
+    def look_at_tables(self, name):
+        """A dict at module level is only read, by an index or behind in."""
+        right = []
+        for node in ast.walk(self.trees[name]):
+            if isinstance(node, ast.Subscript) and isinstance(node.ctx, ast.Load):
+                right.append(node.value)
+            elif isinstance(node, ast.Compare):
+                right += [part for sign, part in zip(node.ops, node.comparators)
+                          if isinstance(sign, (ast.In, ast.NotIn))]
+            elif isinstance(node, ast.Assign) and node in self.trees[name].body:
+                right += node.targets
+        told = self.tables(name)
+        for node in ast.walk(self.trees[name]):
+            if isinstance(node, ast.Name) and node.id in told and node not in right:
+                self.fault("L15", name, node.lineno, f"{node.id} is handed on or modified")
 
     def look_at_import(self, name, node, at):
         ahead = self.trees[name].body[:at]
@@ -157,7 +187,7 @@ class Look:
             ast.FunctionDef: self.look_at_function, ast.ClassDef: self.look_at_class, ast.Call: self.look_at_call,
             ast.Compare: self.look_at_compare, ast.Constant: self.look_at_constant, ast.Raise: self.look_at_raise,
             ast.Name: self.look_at_plain_name, ast.Attribute: self.look_at_attribute, ast.For: self.look_at_loop,
-            ast.Dict: self.look_at_dict}
+            ast.Dict: self.look_at_dict, ast.Try: self.look_at_try}
         if node.__class__ in looks:
             looks[node.__class__](name, node)
 
@@ -223,9 +253,40 @@ class Look:
                             told[other.name] = other
         return told
 
+    def own_methods(self):
+        """The methods of all classes, their nodes by their names."""
+        told = {}
+        for tree in self.trees.values():
+            for node in ast.walk(tree):
+                if isinstance(node, ast.ClassDef):
+                    for part in node.body:
+                        if isinstance(part, ast.FunctionDef):
+                            told.setdefault(part.name, []).append(part)
+        return told
+
+    def from_tables(self, name):
+        """The functions of the tables of a file by the local names that are assigned one of them."""
+        told = {}
+        for node in ast.walk(self.trees[name]):
+            if isinstance(node, ast.Assign) and isinstance(node.value, ast.Subscript):
+                table = self.tables(name).get(getattr(node.value.value, "id", None))
+                if table and isinstance(node.targets[0], ast.Name):
+                    words = [value.id for value in table.values if isinstance(value, ast.Name)]
+                    told[node.targets[0].id] = [self.known(name)[word] for word in words if word in self.known(name)]
+        return told
+
+    def takes(self, name, node, own, hidden):
+        """A call passes what a function takes, its first parameters, so many as are hidden, not counted."""
+        wanted = [arg.arg for arg in own.args.args][hidden:]
+        given = wanted[:len(node.args)] + [word.arg for word in node.keywords]
+        if len(node.args) > len(wanted) or sorted(given) != sorted(wanted):
+            self.fault("L22", name, node.lineno, f"{own.name} is passed what it does not take")
+
     def look_at_call(self, name, node):
         if isinstance(node.func, ast.Attribute):
-            if node.func.attr not in METHODS or node.keywords:
+            for own in self.own_methods().get(node.func.attr, []):
+                self.takes(name, node, own, 1)
+            if node.func.attr not in self.own_methods() and (node.func.attr not in METHODS or node.keywords):
                 self.fault("L25", name, node.lineno, "a method that is not in use here")
             return
         if not isinstance(node.func, ast.Name):
@@ -233,14 +294,29 @@ class Look:
             return
         own = self.known(name).get(node.func.id)
         if isinstance(own, ast.FunctionDef):
-            takes = [arg.arg for arg in own.args.args]
-            given = takes[:len(node.args)] + [word.arg for word in node.keywords]
-            if len(node.args) > len(takes) or sorted(given) != sorted(takes):
-                self.fault("L22", name, node.lineno, f"{node.func.id} is passed what it does not take")
-        elif own is None and node.func.id not in BUILTINS:
+            self.takes(name, node, own, 0)
+        elif isinstance(own, ast.ClassDef):
+            made = [part for part in own.body if isinstance(part, ast.FunctionDef) and part.name == "__init__"]
+            for part in made:
+                self.takes(name, node, part, 1)
+            if not made and (node.args or node.keywords):
+                self.fault("L22", name, node.lineno, "a class without an __init__ is passed something")
+        elif node.func.id in self.from_tables(name):
+            for told in self.from_tables(name)[node.func.id]:
+                self.takes(name, node, told, 0)
+        elif node.func.id not in BUILTINS:
             self.fault("L8", name, node.lineno, f"{node.func.id} is not called here")
-        elif own is None and node.keywords:
+        elif node.keywords:
             self.fault("L22", name, node.lineno, "a keyword of a builtin is not in use here")
+
+    def look_at_try(self, name, node):
+        """Own errors alone are caught, by their names; nothing else stands below."""
+        for handler in node.handlers:
+            own = self.known(name).get(getattr(handler.type, "id", None))
+            if not isinstance(own, ast.ClassDef) or handler.name:
+                self.fault("L19", name, handler.lineno, "a handler that names no class of an own error")
+        if node.orelse or node.finalbody:
+            self.fault("L6", name, node.lineno, "else and finally of a try are not in use here")
 
     def look_at_loop(self, name, node):
         """What is iterated is not modified: no item of it is assigned, no method that modifies is called off it."""
@@ -252,7 +328,7 @@ class Look:
                 self.fault("L23", name, part.lineno, "what a loop iterates over is modified")
 
     def look_at_dict(self, name, node):
-        if node.keys:
+        if node.keys and node not in self.tables(name).values():
             self.fault("L24", name, node.lineno, "only a dict that is empty at first is in use here")
 
     def look_at_sets(self, name):
@@ -327,6 +403,8 @@ class Look:
                     right += node.args[1:]
             elif isinstance(node, ast.ClassDef):
                 right += node.bases
+            elif isinstance(node, ast.ExceptHandler):
+                right.append(node.type)
         classes = [word for word, own in self.known(name).items() if isinstance(own, ast.ClassDef)]
         calls = [word for word in BUILTINS if word not in classes]
         for node in ast.walk(tree):
@@ -334,16 +412,23 @@ class Look:
                 self.fault("L18", name, node.lineno, f"{node.id} is handed on as a value")
 
     def look_at_attributes(self):
-        methods, attributes = [], []
+        methods, attributes, read = list(self.own_methods()), [], []
         for tree in self.trees.values():
+            called = [node.func for node in ast.walk(tree) if isinstance(node, ast.Call)]
             for node in ast.walk(tree):
-                if isinstance(node, ast.ClassDef):
-                    methods += [part.name for part in node.body if isinstance(part, ast.FunctionDef)]
-                elif isinstance(node, ast.Attribute) and isinstance(node.ctx, ast.Store):
+                if isinstance(node, ast.Attribute) and isinstance(node.ctx, ast.Store):
                     attributes.append(node.attr)
+                elif isinstance(node, ast.Attribute) and node not in called:
+                    read.append(node.attr)
         for one in attributes:
             if one in methods:
                 self.fault("L18", PACKAGE, 1, f"{one} is a method in one class and an attribute in another")
+        for one in read:
+            if one not in attributes:
+                self.fault("L18", PACKAGE, 1, f"{one} is read, but no class assigns it")
+        for one in methods:
+            if one != "__init__" and any(one in dir(kind) for kind in (int, str, bytes, list, tuple, dict, set)):
+                self.fault("L26", PACKAGE, 1, f"{one} is a method of a builtin value, too")
 
 
 def faults(files):

@@ -6,9 +6,9 @@ import unittest
 
 from tests.samples import FIELDS, GRID_FOUR, GRID_THREE, OUTERMOST, SPOT, SQUARE, no_points
 from threelays import (
-    boundchecker, boundpapers, circles, countchecker, counting, countpapers, distances, falls, fields, fractions,
-    fronts, laychecker, lays, leasts, longest, menus, nears, numbering, plain, plainchecker, points, tielays, ties,
-    triangles, turns)
+    boundchecker, boundpapers, circles, countchecker, counting, countpapers, distances, falls, farchecker, farpapers,
+    fields, fractions, fronts, laychecker, lays, leasts, longest, menus, nears, numbering, plain, plainchecker, points,
+    ringchecker, ringleasts, ringpapers, rings, tielays, ties, triangles, turns)
 from threelays.errors import Crossed, NoLay, NoPaper, NoTie
 
 TIE = ((0, 0), (1, 1))
@@ -21,6 +21,10 @@ LOWER = fields.lower(SQUARE)
 PAPER = ((fields.upper(SQUARE), 1, 1), (SQUARE, 0, 1), (LOWER, 0, 1))
 WEIGHTS = (1, 2, 3, 4, 5, 6)
 BOUNDS = ((fields.upper(SQUARE), 0), (SQUARE, 5), (LOWER, 10))
+FARS = (1, ((PLAIN, 0),))
+RING = ((0, 0), (1, 0), (1, 1), (0, 1))
+RING_PAPER = ((0, 2, 1), (1, 3, 1), (0, 3, 2))
+RIGHT = (LAY, PAPER, BOUNDS, OTHER_TIE, FARS, RING_PAPER)
 
 INTERFACE = (
     (fractions, "is_number", ("thing",)), (fractions, "is_fraction", ("thing",)),
@@ -52,7 +56,11 @@ INTERFACE = (
     (circles, "is_empty", ("field", "lay")), (plain, "plain_lay", ("field", "walls")),
     (plainchecker, "lets_plain", ("field", "walls", "thing")), (falls, "fallen", ("field", "walls", "lay")),
     (falls, "joined", ("field", "one", "other")), (nears, "near_ties", ("field",)),
-    (distances, "fewest", ("field", "one", "other")))
+    (distances, "fewest", ("field", "one", "other")), (farchecker, "lets_far", ("field", "one", "other", "thing")),
+    (farpapers, "far_paper", ("field", "one", "other")), (rings, "is_ring", ("thing",)),
+    (rings, "ring_triangles", ("ring",)), (rings, "ring_count", ("ring",)),
+    (ringchecker, "lets_ring", ("ring", "thing")), (ringpapers, "ring_paper", ("ring",)),
+    (ringleasts, "ring_least", ("ring", "weights")))
 
 ASKINGS = (
     (fractions.fraction, (6, -4)), (fractions.less, ((1, 3), (1, 2))), (points.side, THREE), (points.area, THREE),
@@ -74,13 +82,17 @@ ASKINGS = (
     (plain.plain_lay, (SQUARE, (OTHER_TIE,))), (plain.plain_lay, (GRID_FOUR, ())),
     (plainchecker.lets_plain, (SQUARE, (OTHER_TIE,), LAY)), (falls.fallen, (SQUARE, (), LAY)),
     (falls.joined, (SQUARE, LAY, PLAIN)), (falls.joined, (SQUARE, PLAIN, LAY)), (nears.near_ties, (GRID_THREE,)),
-    (distances.fewest, (SQUARE, LAY, PLAIN)), (distances.fewest, (SQUARE, LAY, LAY)))
+    (distances.fewest, (SQUARE, LAY, PLAIN)), (distances.fewest, (SQUARE, LAY, LAY)),
+    (farchecker.lets_far, (SQUARE, LAY, PLAIN, FARS)), (farpapers.far_paper, (SQUARE, LAY, PLAIN)),
+    (farpapers.far_paper, (SQUARE, LAY, LAY)), (rings.ring_triangles, (RING,)), (rings.ring_count, (RING,)),
+    (ringchecker.lets_ring, (RING, RING_PAPER)), (ringpapers.ring_paper, (RING,)),
+    (ringleasts.ring_least, (RING, WEIGHTS)))
 
 LOOKS = (
     fractions.is_number, fractions.is_fraction, points.is_point, fields.is_field,
     lambda thing: ties.is_tie(GRID_THREE, thing), lambda thing: triangles.is_triangle(GRID_THREE, thing),
     lambda thing: menus.is_menu(SQUARE, thing), lambda thing: fronts.is_front(SQUARE, thing),
-    lambda thing: turns.can_turn(SQUARE, LAY, thing))
+    lambda thing: turns.can_turn(SQUARE, LAY, thing), rings.is_ring)
 
 
 def refusal(ask, things):
@@ -96,7 +108,9 @@ CHECKERS = (
     lambda thing: refusal(countchecker.lets_count, (SQUARE, LAY, thing)),
     lambda thing: refusal(boundchecker.lets_bound, (SQUARE, WEIGHTS, LAY, thing)),
     lambda thing: refusal(plainchecker.lets_plain, (SQUARE, (OTHER_TIE,), thing)),
-    lambda thing: refusal(turns.turned, (SQUARE, LAY, thing)))
+    lambda thing: refusal(turns.turned, (SQUARE, LAY, thing)),
+    lambda thing: refusal(farchecker.lets_far, (SQUARE, LAY, PLAIN, thing)),
+    lambda thing: refusal(ringchecker.lets_ring, (RING, thing)))
 
 TELLS = (fields.hull, fields.hull_area, fields.lower, fields.upper, ties.ties, triangles.triangles)
 
@@ -108,7 +122,9 @@ def right_things():
         list(LAY), (SPOT, list(SQUARE[1:])), LAY[::-1], LAY[:1], LOWER, list(LOWER), PAPER, list(PAPER), PAPER[1:],
         PAPER[:2] + ([LOWER, 0, 1],), PAPER[:2] + ((list(LOWER), 0, 1),), PAPER[:2] + ((LOWER, 0, 2),), BOUNDS,
         list(BOUNDS), BOUNDS[1:], BOUNDS[:2] + ([LOWER, 10],), BOUNDS[:2] + ((list(LOWER), 10),), BOUNDS + BOUNDS,
-        OTHER_TIE, list(OTHER_TIE), (list(OTHER_TIE[0]), OTHER_TIE[1])]
+        OTHER_TIE, list(OTHER_TIE), (list(OTHER_TIE[0]), OTHER_TIE[1]), FARS, list(FARS), (1, [(PLAIN, 0)]),
+        (1, ([PLAIN, 0],)), (1, ((list(PLAIN), 0),)), RING, list(RING), ([0, 0],) + RING[1:], RING_PAPER,
+        list(RING_PAPER), RING_PAPER[:2] + ([0, 3, 2],), RING_PAPER[1:]]
 
 
 class InterfaceTests(unittest.TestCase):
@@ -166,7 +182,9 @@ class RefusalTests(unittest.TestCase):
                                   (leasts.least, (SQUARE, WEIGHTS, ()), NoLay),
                                   (turns.turned, (SQUARE, LAY, TIE), NoTie),
                                   (plain.plain_lay, (SQUARE, (TIE, OTHER_TIE)), Crossed),
-                                  (plainchecker.lets_plain, (SQUARE, (TIE,), LAY), NoPaper)):
+                                  (plainchecker.lets_plain, (SQUARE, (TIE,), LAY), NoPaper),
+                                  (farchecker.lets_far, (SQUARE, LAY, PLAIN, (2, ((PLAIN, 0),))), NoPaper),
+                                  (ringchecker.lets_ring, (RING, RING_PAPER[1:]), NoPaper)):
             found = []
             for step in range(2):
                 with self.assertRaises(kind) as caught:
@@ -177,10 +195,10 @@ class RefusalTests(unittest.TestCase):
 
     def test_what_was_refused_changes_no_answer(self):
         for look in CHECKERS:
-            right = [repr(look(thing)) for thing in (LAY, PAPER, BOUNDS, OTHER_TIE)]
+            right = [repr(look(thing)) for thing in RIGHT]
             for thing in no_points() + right_things():
                 look(thing)
-            self.assertEqual([repr(look(thing)) for thing in (LAY, PAPER, BOUNDS, OTHER_TIE)], right)
+            self.assertEqual([repr(look(thing)) for thing in RIGHT], right)
 
 
 class AnsweredAlikeTests(unittest.TestCase):

@@ -18,7 +18,23 @@ BROKEN = (
     ("L5", "class A:\n    x = 1\n"), ("L6", "def f():\n    global x\n"), ("L6", "def f():\n    return {1, 2, 3}\n"),
     ("L6", "def f(a):\n    return a / 2\n"), ("L6", "def f(a):\n    return 2 ** a\n"),
     ("L6", "def f():\n    yield 1\n"),
-    ("L6", "def f(a):\n    try:\n        a()\n    except Exception:\n        pass\n"),
+    ("L19", "def f(a):\n    try:\n        len(a)\n    except Exception:\n        pass\n"),
+    ("L19", "def f(a):\n    try:\n        len(a)\n    except:\n        pass\n"),
+    ("L19", "class A(ValueError):\n    pass\ndef f(a):\n    try:\n        len(a)\n    except (A, KeyError):\n"
+     "        pass\n"),
+    ("L6", "class A(ValueError):\n    pass\ndef f(a):\n    try:\n        len(a)\n    except A:\n        pass\n"
+     "    finally:\n        a.append(1)\n"),
+    ("L3", "T = {1: len}\n"), ("L3", "T = {1: f}\ndef f():\n    return 1\n"), ("L3", "T = {1: [2]}\n"),
+    ("L3", "T = {1: 2, **{}}\n"), ("L3", "T = {1: {}}\n"), ("L15", "T = {1: 2}\ndef f():\n    return T\n"),
+    ("L15", "T = {1: 2}\ndef f():\n    T[3] = 4\n"),
+    ("L15", "T = {1: 2}\ndef f():\n    for x in T:\n        len(x)\n"),
+    ("L22", "def g(a):\n    return a\nT = {1: g}\ndef f():\n    h = T[1]\n    return h(1, 2)\n"),
+    ("L8", "def g(a):\n    return a\nT = {1: g}\ndef f():\n    h = g\n    return h(1)\n"),
+    ("L7", "def g(a):\n    return a\nT = {1: g}\ndef f():\n    return T[1](1)\n"),
+    ("L22", "class A:\n    def g(self):\n        return 1\ndef f(a):\n    return a.g(2)\n"),
+    ("L22", "class A:\n    def __init__(self, x):\n        self.x = x\ndef f(a):\n    return A()\n"),
+    ("L22", "class A:\n    def g(self):\n        return 1\ndef f(a):\n    return A(1)\n"),
+    ("L18", "def f(a):\n    return a.many\n"), ("L26", "class A:\n    def index(self):\n        return 1\n"),
     ("L7", "def f():\n    return 1.5\n"), ("L7", "def f():\n    return (lambda: 1)()\n"),
     ("L8", "def f(a):\n    return hash(a)\n"), ("L8", "def f(a):\n    print(a)\n"),
     ("L10", "x = 1  #" + "x" * 120 + "\n"), ("L10", "\n" * 401), ("L10", "if 1:\n\tx = 1\n"),
@@ -46,6 +62,12 @@ BROKEN = (
     ("L27", "x = 1" + "0" * 900 + "\n"), ("L28", "class A:\n    def __init__(self):\n        return None\n"))
 
 GOOD = "def told(a):\n    return a\n"
+TABLED = ("class Bad(ValueError):\n    'Bad.'\ndef one(a):\n    raise Bad()\nTABLE = {'a': one, 'b': one}\n"
+          "WORDS = {'a': (('b', 1), ()), 'c': -1}\n"
+          "def f(a):\n    g = TABLE[a]\n    try:\n        return g(WORDS[a]) if a in WORDS else 1\n"
+          "    except Bad:\n        return 2\n"
+          "class Box:\n    def __init__(self, a):\n        self.a = [a]\n    def told(self, b):\n"
+          "        self.a.append(b)\n        return self.a\ndef h(a):\n    return Box(a).told(2)\n")
 VIEWED = "def f(a):\n    return (sum(a.values()), tuple(a.items()), dict(zip(a, a)), list(a.keys()))\n"
 
 
@@ -63,7 +85,8 @@ class LanguageTests(unittest.TestCase):
         for name in ("__init__", "errors", "fractions", "points", "fields", "ties", "triangles", "laychecker", "lays",
                      "tielays", "menus", "fronts", "counting", "countchecker", "countpapers", "numbering", "leasts",
                      "boundchecker", "boundpapers", "longest", "turns", "circles", "plainchecker", "falls", "plain",
-                     "nears", "distances"):
+                     "nears", "distances", "farchecker", "farpapers", "rings", "ringchecker", "ringpapers",
+                     "ringleasts"):
             self.assertIn(name + ".py", files)
         self.assertTrue(all(path.is_file() for path in HOME.iterdir() if path.name != "__pycache__"))
         self.assertLessEqual(len(files), 100)
@@ -83,4 +106,5 @@ class LanguageTests(unittest.TestCase):
         self.assertEqual([fault.split()[0] for fault in faults(rounds)], ["L16", "L16"])
 
     def test_the_look_lets_good_files_by(self):
-        self.assertEqual(faults({"__init__.py": '"""Told."""\n', "good.py": GOOD, "viewed.py": VIEWED}), [])
+        files = {"__init__.py": '"""Told."""\n', "good.py": GOOD, "viewed.py": VIEWED, "tabled.py": TABLED}
+        self.assertEqual(faults(files), [])

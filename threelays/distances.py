@@ -15,12 +15,20 @@ def widen(field, edge, ways):
     return found
 
 
-def fewest(field, one, other):
-    """Tell fewest TIES by whose TURNS the one LAY of a FIELD comes to the other."""
+def ways_from(field, one, other):
+    """Tell fewest TIES by whose TURNS the one LAY of a FIELD comes to each LAY that is no farther than the other.
+
+    What is told is a dict of LAYS; of those that are just as far as the other not all need be in it.
+    """
     ways = {}
     ways[one] = []
     edge = [one]
     # By TURNS each LAY comes to each other one, so there is an end.
     while other not in ways:
         edge = widen(field, edge, ways)
-    return ways[other]
+    return ways
+
+
+def fewest(field, one, other):
+    """Tell fewest TIES by whose TURNS the one LAY of a FIELD comes to the other."""
+    return ways_from(field, one, other)[other]

@@ -50,3 +50,12 @@ def lets_lay(field, thing):
     look_at_overs(thing)
     look_at_areas(field, thing)
     return True
+
+
+def is_lay(field, thing):
+    """Tell whether a thing is a LAY of a FIELD."""
+    try:
+        lets_lay(field, thing)
+    except NoPaper:
+        return False
+    return True

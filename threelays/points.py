@@ -18,12 +18,15 @@ def rises(row):
     return all(one < other for one, other in steps(row))
 
 
+def are_points(thing):
+    """Tell whether a thing is a tuple of POINTS, perhaps of none."""
+    return isinstance(thing, tuple) and all(is_point(point) for point in thing)
+
+
 def are_rising_points(thing):
     """Tell whether a thing is a rising tuple of POINTS, perhaps of none."""
-    if not isinstance(thing, tuple):
-        return False
     # Truths compare like numbers, so each one's kind is asked before any are compared.
-    return all(is_point(point) for point in thing) and rises(thing)
+    return are_points(thing) and rises(thing)
 
 
 def signed_area(a, b, c):
