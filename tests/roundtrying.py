@@ -55,7 +55,7 @@ def made_ring(seed, many, reach):
 
 
 def untangled(points):
-    """A ring of the same points: stretches whose ends meet are turned round, as long as there are such; None if none."""
+    """A ring of the same points: stretches between sides that meet are turned round; None where that has no end."""
     for step in range(200):
         here = sides_round(points)
         met = [(i, j) for i, j in itertools.combinations(range(len(points)), 2)

@@ -6,10 +6,11 @@ import unittest
 
 from tests.samples import FIELDS, GRID_FOUR, GRID_THREE, OUTERMOST, SPOT, SQUARE, no_points
 from threelays import (
-    boundchecker, boundpapers, circles, countchecker, counting, countpapers, distances, falls, farchecker, farpapers,
-    fields, fractions, fronts, laychecker, lays, leasts, longest, menus, nears, numbering, plain, plainchecker, points,
-    ringchecker, ringleasts, ringpapers, rings, tielays, ties, triangles, turns)
-from threelays.errors import Crossed, NoLay, NoPaper, NoTie
+    boundchecker, boundpapers, circles, countchecker, counting, countpapers, desk, distances, falls, farchecker,
+    farpapers, fields, fractions, fronts, keeping, laychecker, lays, leasts, longest, menus, nears, numbering, plain,
+    plainchecker, points, readings, ringchecker, ringleasts, ringpapers, rings, texts, tielays, ties, triangles, turns,
+    webchecker, webpapers, webs)
+from threelays.errors import Crossed, LayError, NoLay, NoPaper, NoPoint, NoRow, NoStep, NoText, NoTie
 
 TIE = ((0, 0), (1, 1))
 OTHER_TIE = ((0, 1), (1, 0))
@@ -24,7 +25,10 @@ BOUNDS = ((fields.upper(SQUARE), 0), (SQUARE, 5), (LOWER, 10))
 FARS = (1, ((PLAIN, 0),))
 RING = ((0, 0), (1, 0), (1, 1), (0, 1))
 RING_PAPER = ((0, 2, 1), (1, 3, 1), (0, 3, 2))
-RIGHT = (LAY, PAPER, BOUNDS, OTHER_TIE, FARS, RING_PAPER)
+SIDES = ties.ties(SPOT)
+WEB_PAPER = (((), (1,), ("none",)), (SIDES[:1], (1, 1), ("split", SIDES[0], 0, 0)),
+             (SIDES[:2], (1, 2, 1), ("split", SIDES[1], 1, 1)), (SIDES, (1, 3, 3, 1), ("split", SIDES[2], 2, 2)))
+RIGHT = (LAY, PAPER, BOUNDS, OTHER_TIE, FARS, RING_PAPER, WEB_PAPER)
 
 INTERFACE = (
     (fractions, "is_number", ("thing",)), (fractions, "is_fraction", ("thing",)),
@@ -60,7 +64,16 @@ INTERFACE = (
     (farpapers, "far_paper", ("field", "one", "other")), (rings, "is_ring", ("thing",)),
     (rings, "ring_triangles", ("ring",)), (rings, "ring_count", ("ring",)),
     (ringchecker, "lets_ring", ("ring", "thing")), (ringpapers, "ring_paper", ("ring",)),
-    (ringleasts, "ring_least", ("ring", "weights")))
+    (ringleasts, "ring_least", ("ring", "weights")), (webs, "web_row", ("field",)),
+    (webchecker, "lets_web", ("field", "thing")), (webpapers, "web_paper", ("field",)),
+    (keeping, "Keeper", ("field",)), (keeping.Keeper, "points", ("self",)), (keeping.Keeper, "walls", ("self",)),
+    (keeping.Keeper, "lay", ("self",)), (keeping.Keeper, "put", ("self", "thing")),
+    (keeping.Keeper, "take", ("self", "thing")), (keeping.Keeper, "wall", ("self", "thing")),
+    (keeping.Keeper, "unwall", ("self", "thing")), (keeping.Keeper, "back", ("self",)),
+    (texts, "shown_points", ("points",)), (texts, "shown_ties", ("some",)), (texts, "shown_triangles", ("some",)),
+    (texts, "shown_ring", ("paper",)), (texts, "shown_web", ("paper",)), (readings, "read_points", ("text",)),
+    (readings, "read_ties", ("text",)), (readings, "read_triangles", ("text",)), (readings, "read_ring", ("lines",)),
+    (readings, "read_web", ("lines",)), (desk, "Desk", ()), (desk.Desk, "say", ("self", "row")))
 
 ASKINGS = (
     (fractions.fraction, (6, -4)), (fractions.less, ((1, 3), (1, 2))), (points.side, THREE), (points.area, THREE),
@@ -86,7 +99,9 @@ ASKINGS = (
     (farchecker.lets_far, (SQUARE, LAY, PLAIN, FARS)), (farpapers.far_paper, (SQUARE, LAY, PLAIN)),
     (farpapers.far_paper, (SQUARE, LAY, LAY)), (rings.ring_triangles, (RING,)), (rings.ring_count, (RING,)),
     (ringchecker.lets_ring, (RING, RING_PAPER)), (ringpapers.ring_paper, (RING,)),
-    (ringleasts.ring_least, (RING, WEIGHTS)))
+    (ringleasts.ring_least, (RING, WEIGHTS)), (webs.web_row, (SQUARE,)), (webchecker.lets_web, (SPOT, WEB_PAPER)),
+    (webpapers.web_paper, (SQUARE,)), (readings.read_points, ("0,0 4,-1",)), (readings.read_ties, ("0,0/4,-1",)),
+    (readings.read_triangles, ("0,0/4,-1/5,3",)), (readings.read_ring, (["ring", "0 2 1"],)))
 
 LOOKS = (
     fractions.is_number, fractions.is_fraction, points.is_point, fields.is_field,
@@ -99,7 +114,7 @@ def refusal(ask, things):
     """The fields with which a checker refuses; what it tells else."""
     try:
         return ask(*things)
-    except (NoPaper, NoTie) as error:
+    except LayError as error:
         return vars(error)
 
 
@@ -110,7 +125,12 @@ CHECKERS = (
     lambda thing: refusal(plainchecker.lets_plain, (SQUARE, (OTHER_TIE,), thing)),
     lambda thing: refusal(turns.turned, (SQUARE, LAY, thing)),
     lambda thing: refusal(farchecker.lets_far, (SQUARE, LAY, PLAIN, thing)),
-    lambda thing: refusal(ringchecker.lets_ring, (RING, thing)))
+    lambda thing: refusal(ringchecker.lets_ring, (RING, thing)),
+    lambda thing: refusal(webchecker.lets_web, (SPOT, thing)),
+    lambda thing: refusal(keeping.Keeper(SQUARE).put, (thing,)),
+    lambda thing: refusal(keeping.Keeper(SQUARE).take, (thing,)),
+    lambda thing: refusal(keeping.Keeper(SQUARE).wall, (thing,)),
+    lambda thing: refusal(keeping.Keeper(SQUARE).unwall, (thing,)))
 
 TELLS = (fields.hull, fields.hull_area, fields.lower, fields.upper, ties.ties, triangles.triangles)
 
@@ -124,7 +144,8 @@ def right_things():
         list(BOUNDS), BOUNDS[1:], BOUNDS[:2] + ([LOWER, 10],), BOUNDS[:2] + ((list(LOWER), 10),), BOUNDS + BOUNDS,
         OTHER_TIE, list(OTHER_TIE), (list(OTHER_TIE[0]), OTHER_TIE[1]), FARS, list(FARS), (1, [(PLAIN, 0)]),
         (1, ([PLAIN, 0],)), (1, ((list(PLAIN), 0),)), RING, list(RING), ([0, 0],) + RING[1:], RING_PAPER,
-        list(RING_PAPER), RING_PAPER[:2] + ([0, 3, 2],), RING_PAPER[1:]]
+        list(RING_PAPER), RING_PAPER[:2] + ([0, 3, 2],), RING_PAPER[1:], WEB_PAPER, list(WEB_PAPER), WEB_PAPER[:2],
+        WEB_PAPER[:3] + ([*WEB_PAPER[3]],), (((), [1], ("none",)),), (((), (1,), ["none"]),), (5, 5), [5, 5]]
 
 
 class InterfaceTests(unittest.TestCase):
@@ -184,7 +205,11 @@ class RefusalTests(unittest.TestCase):
                                   (plain.plain_lay, (SQUARE, (TIE, OTHER_TIE)), Crossed),
                                   (plainchecker.lets_plain, (SQUARE, (TIE,), LAY), NoPaper),
                                   (farchecker.lets_far, (SQUARE, LAY, PLAIN, (2, ((PLAIN, 0),))), NoPaper),
-                                  (ringchecker.lets_ring, (RING, RING_PAPER[1:]), NoPaper)):
+                                  (ringchecker.lets_ring, (RING, RING_PAPER[1:]), NoPaper),
+                                  (webchecker.lets_web, (SPOT, WEB_PAPER[:2]), NoPaper),
+                                  (keeping.Keeper(SQUARE).put, ((0, 0),), NoPoint),
+                                  (keeping.Keeper(SQUARE).back, (), NoStep),
+                                  (readings.read_points, ("x",), NoText), (desk.Desk().say, ("points",), NoRow)):
             found = []
             for step in range(2):
                 with self.assertRaises(kind) as caught:
@@ -224,7 +249,7 @@ class AnsweredAlikeTests(unittest.TestCase):
             if thing.__class__ is tuple:
                 for part in thing:
                     look(part)
-            else:
+            elif thing not in ("none", "split", "beside"):
                 self.assertIs(thing.__class__, int)
 
         for tell in TELLS:

@@ -86,7 +86,7 @@ class LanguageTests(unittest.TestCase):
                      "tielays", "menus", "fronts", "counting", "countchecker", "countpapers", "numbering", "leasts",
                      "boundchecker", "boundpapers", "longest", "turns", "circles", "plainchecker", "falls", "plain",
                      "nears", "distances", "farchecker", "farpapers", "rings", "ringchecker", "ringpapers",
-                     "ringleasts"):
+                     "ringleasts", "webs", "webchecker", "webpapers", "keeping", "texts", "readings", "desk"):
             self.assertIn(name + ".py", files)
         self.assertTrue(all(path.is_file() for path in HOME.iterdir() if path.name != "__pycache__"))
         self.assertLessEqual(len(files), 100)
